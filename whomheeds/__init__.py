@@ -1,0 +1,1 @@
+"""Whomheeds: what a council says, by whatever weights."""
