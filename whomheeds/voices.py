@@ -2,7 +2,7 @@
 
 from math import gcd, lcm
 
-from whomheeds.basics import added_up, are_numbers, asks, frozen, is_firm, is_number, lowest, put_at, refuse
+from whomheeds.basics import added_up, are_numbers, asks, frozen, is_firm, lowest, put_at, refuse
 from whomheeds.councils import askers, firm_ones
 from whomheeds.errors import Unfit
 
@@ -216,6 +216,6 @@ def wish_at(council, weights, wish):
     """The value of the WISH by these WEIGHTS; a FRACTION."""
     council, weights, wish = frozen((council, weights, wish))
     named = [number for member, firm, _ in wish for number in (member, firm)]
-    refuse(council, named, (), [firm for _, firm, _ in wish])
+    refuse(council, named, (), [triple[1] for triple in wish])
     total, table = tree_sums(council, weights)
     return lowest(sum([number * table[member][firm] for member, firm, number in wish]), total)

@@ -1,0 +1,148 @@
+"""Promise 1, and the form of the package: a small part of Python, nothing from outside."""
+
+import ast
+import builtins
+import pathlib
+import re
+import subprocess
+import sys
+import unittest
+
+import whomheeds
+
+FOLDER = pathlib.Path(whomheeds.__file__).parent
+FILES = sorted(FOLDER.glob("*.py"))
+LIBRARY = {"math": {"gcd", "lcm", "isqrt", "comb", "perm", "factorial"}}
+BUILTINS = set("""len range enumerate zip min max sum abs sorted reversed int str bool bytes list tuple dict set
+    isinstance ord repr any all divmod LookupError ValueError""".split())
+METHODS = set("append extend insert index count get items keys values pop copy".split())
+BARRED = set("""register mro elements open input law version_info with_traceback add_note attrgetter breakpoint builtins
+    compile copyright credits delattr dir eval exec exit gc getattr globals hasattr help id importlib license locals
+    methodcaller os quit setattr super type vars sys _""".split())
+PLAIN = (ast.FunctionDef, ast.ClassDef, ast.ImportFrom)
+
+
+def trees():
+    return [(path.name, ast.parse(path.read_text())) for path in FILES]
+
+
+def nodes(kind):
+    return [(name, node) for name, tree in trees() for node in ast.walk(tree) if isinstance(node, kind)]
+
+
+def bound_names(tree):
+    found = set()
+    for node in ast.walk(tree):
+        if isinstance(node, (ast.FunctionDef, ast.ClassDef)):
+            found.add(node.name)
+        elif isinstance(node, ast.arg):
+            found.add(node.arg)
+        elif isinstance(node, ast.Name) and isinstance(node.ctx, ast.Store):
+            found.add(node.id)
+        elif isinstance(node, ast.alias):
+            found.add(node.name)
+    return found
+
+
+class Form(unittest.TestCase):
+
+    def test_folder(self):
+        others = [path.name for path in FOLDER.iterdir() if path.suffix != ".py" and path.name != "__pycache__"]
+        self.assertEqual(others, [])
+        for path in FILES:
+            self.assertTrue(re.fullmatch("[a-z0-9_]+[.]py", path.name))
+
+    def test_size_and_characters(self):
+        for path in FILES:
+            text = path.read_text()
+            self.assertTrue(all(char == "\n" or " " <= char <= "~" for char in text), path.name)
+            self.assertLessEqual(len(text.splitlines()), 399, path.name)
+            self.assertLessEqual(max(map(len, text.splitlines())), 120, path.name)
+        for name, node in nodes(ast.FunctionDef):
+            self.assertLessEqual(node.end_lineno - node.lineno + 1, 40, (name, node.name))
+
+    def test_imports(self):
+        """No clock, no random source, no file, no network: nothing from outside but plain arithmetic."""
+        for name, node in nodes((ast.Import, ast.ImportFrom)):
+            self.assertIsInstance(node, ast.ImportFrom, name)
+            told = {alias.name for alias in node.names}
+            if node.module in LIBRARY:
+                self.assertTrue(told <= LIBRARY[node.module], name)
+            else:
+                package, file = node.module.split(".")
+                self.assertEqual(package, "whomheeds")
+                tree = ast.parse((FOLDER / f"{file}.py").read_text())
+                defined = {part.name for part in tree.body if isinstance(part, (ast.FunctionDef, ast.ClassDef))}
+                self.assertTrue(told <= defined, (name, told - defined))
+            self.assertTrue(all(alias.asname is None for alias in node.names))
+
+    def test_imports_are_used(self):
+        for name, tree in trees():
+            used = {node.id for node in ast.walk(tree) if isinstance(node, ast.Name)}
+            for node in ast.walk(tree):
+                if isinstance(node, ast.ImportFrom):
+                    for alias in node.names:
+                        self.assertIn(alias.name, used, name)
+
+    def test_importing_brings_no_clock_and_no_random_source(self):
+        told = ("import sys; before = set(sys.modules); "
+                "import whomheeds.councils, whomheeds.voices, whomheeds.follows; "
+                "print(sorted(set(sys.modules) - before))")
+        run = subprocess.run([sys.executable, "-c", told], cwd=FOLDER.parent, capture_output=True, text=True, check=True)
+        brought = [name for name in ast.literal_eval(run.stdout) if not name.startswith("whomheeds")]
+        self.assertTrue(set(brought) <= {"math"}, brought)
+
+    def test_no_import_goes_round(self):
+        leads = {name: {node.module.split(".")[1] + ".py" for node in ast.walk(tree)
+                        if isinstance(node, ast.ImportFrom) and node.module.startswith("whomheeds")}
+                 for name, tree in trees()}
+        while leads:
+            free = [name for name, more in leads.items() if not more & set(leads)]
+            self.assertNotEqual(free, [], leads)
+            for name in free:
+                del leads[name]
+
+    def test_module_level(self):
+        for name, tree in trees():
+            self.assertIsNotNone(ast.get_docstring(tree), name)
+            for node in tree.body[1:]:
+                self.assertIsInstance(node, PLAIN, name)
+            names = [node.name for node in tree.body if isinstance(node, (ast.FunctionDef, ast.ClassDef))]
+            self.assertEqual(len(names), len(set(names)), name)
+
+    def test_names(self):
+        for name, tree in trees():
+            bound = bound_names(tree)
+            self.assertEqual(bound & (set(dir(builtins)) | (BARRED - {"_"})), set(), name)
+            tops = {part.name for part in tree.body if isinstance(part, (ast.FunctionDef, ast.ClassDef))}
+            tops |= {alias.name for part in tree.body if isinstance(part, ast.ImportFrom) for alias in part.names}
+            for node in ast.walk(tree):
+                if isinstance(node, ast.Name) and isinstance(node.ctx, ast.Load):
+                    self.assertIn(node.id, (bound | BUILTINS) - {"_"}, name)
+                if isinstance(node, ast.Name) and isinstance(node.ctx, ast.Store):
+                    self.assertNotIn(node.id, tops, name)
+                if isinstance(node, ast.arg):
+                    self.assertNotIn(node.arg, tops, name)
+
+    def test_what_is_used_of_python(self):
+        barred = (ast.Global, ast.Nonlocal, ast.AsyncFunctionDef, ast.Yield, ast.YieldFrom, ast.Div, ast.Set,
+                  ast.SetComp, ast.Try, ast.With, ast.GeneratorExp, ast.NamedExpr, ast.JoinedStr, ast.AnnAssign,
+                  ast.Starred, ast.Pow, ast.MatMult)
+        self.assertEqual([(name, node.lineno) for name, node in nodes(barred)], [])
+        for name, node in nodes((ast.FunctionDef, ast.ClassDef)):
+            self.assertEqual(node.decorator_list, [])
+        for name, node in nodes(ast.Constant):
+            self.assertIn(node.value.__class__, (int, str, bool, None.__class__), name)
+            if isinstance(node.value, str):
+                self.assertNotIn("%", node.value)
+
+    def test_methods(self):
+        for name, node in nodes(ast.Attribute):
+            if isinstance(node.ctx, ast.Load):
+                self.assertIn(node.attr, METHODS, name)
+            else:
+                self.assertEqual((name, node.value.id), ("errors.py", "self"))
+
+
+if __name__ == "__main__":
+    unittest.main()
