@@ -228,7 +228,7 @@ def dead_arcs(council):
 def is_dead(council, arc):
     """Whether no FOLLOWING follows the arc: somebody is lost if its asker asks nobody else."""
     asker, goal = arc
-    return len(lost_ones(put_at(council, asker, (goal,)))) > 0
+    return lost_ones(put_at(council, asker, (goal,))) != ()
 
 
 def sure_arcs(council):
