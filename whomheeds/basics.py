@@ -3,7 +3,7 @@
 The functions here take tuples only: the functions of the interface hand their arguments to frozen first.
 """
 
-from math import gcd
+from math import gcd, lcm
 
 from whomheeds.errors import Lost, NoAsker, NoFirm, NoMember
 
@@ -30,6 +30,11 @@ def are_numbers(thing):
     return isinstance(thing, tuple) and all([is_number(part) for part in thing])
 
 
+def are_tuples(thing, many):
+    """Whether it is a tuple of tuples, each of so many parts."""
+    return isinstance(thing, tuple) and all([isinstance(part, tuple) and len(part) == many for part in thing])
+
+
 def ascend(row):
     """Whether the parts of the tuple ascend, none twice."""
     return all([low < high for low, high in zip(row, row[1:])])
@@ -39,8 +44,24 @@ def is_set_of_numbers(thing):
     return are_numbers(thing) and ascend(thing)
 
 
+def is_fraction(thing):
+    if not are_numbers(thing) or len(thing) != 2:
+        return False
+    return thing[1] >= 1 and gcd(thing[0], thing[1]) == 1
+
+
 def is_firm(council, member):
-    return is_number(council[member])
+    return isinstance(council[member], int)
+
+
+def askers_in(council):
+    """The set of the numbers of the askers."""
+    return tuple([number for number, part in enumerate(council) if isinstance(part, tuple)])
+
+
+def firm_in(council):
+    """The set of the numbers of the firm MEMBERS."""
+    return tuple([number for number, part in enumerate(council) if isinstance(part, int)])
 
 
 def asks(council, member):
@@ -50,7 +71,7 @@ def asks(council, member):
 
 def arcs(council):
     """The set of the pairs (asker, one that it asks)."""
-    return tuple([(member, goal) for member in range(len(council)) for goal in asks(council, member)])
+    return tuple([(asker, goal) for asker in askers_in(council) for goal in council[asker]])
 
 
 def refuse_members(council, numbers):
@@ -102,6 +123,11 @@ def reach_of(council, member):
     return tuple(sorted(found))
 
 
+def ends_reached(council, member):
+    """The set of the firm MEMBERS that this one reaches."""
+    return tuple([number for number in reach_of(council, member) if is_firm(council, number)])
+
+
 def steps_to(council, goals):
     """A dict with, for each MEMBER that reaches one of goals, the fewest arcs by which it does."""
     steps = {goal: 0 for goal in goals}
@@ -116,11 +142,21 @@ def steps_to(council, goals):
     return steps
 
 
+def shut_among(asked, left):
+    """A dict of those of left that come, by whom asked tells for each, to nobody outside of left."""
+    shut = {number: True for number in left}
+    many = len(shut) + 1
+    while len(shut) < many:
+        many = len(shut)
+        for number in list(shut):
+            if not all([goal in shut for goal in asked[number]]):
+                del shut[number]
+    return shut
+
+
 def lost_ones(council):
     """The set of the askers that reach no firm one; one that asks nobody is among them."""
-    members = range(len(council))
-    steps = steps_to(council, [number for number in members if is_firm(council, number)])
-    return tuple([number for number in members if number not in steps])
+    return tuple(shut_among(council, askers_in(council)))
 
 
 def lowest(top, bottom):
@@ -135,3 +171,19 @@ def added_up(numbers, fractions):
     for number, (part_top, part_bottom) in zip(numbers, fractions):
         top, bottom = lowest(top * part_bottom + number * part_top * bottom, bottom * part_bottom)
     return (top, bottom)
+
+
+def on_one_bottom(fractions):
+    """A pair: numbers that are to one another as these fractions, and the bottom of them all."""
+    common = 1
+    for _, bottom in fractions:
+        common = lcm(common, bottom)
+    return (tuple([top * (common // bottom) for top, bottom in fractions]), common)
+
+
+def is_between(fraction, low, high):
+    """Whether it is strictly between the two numbers; just this number, if they are one."""
+    top, bottom = fraction
+    if low == high:
+        return fraction == (low, 1)
+    return low * bottom < top < high * bottom

@@ -1,7 +1,8 @@
 """COUNCILS: their MEMBERS and arcs, who reaches whom, and COUNCILS made of others (section 3)."""
 
-from whomheeds.basics import are_numbers, arcs, asks, frozen, is_firm, is_number, is_set_of_numbers
-from whomheeds.basics import lost_ones, put_at, reach_of, refuse_askers, refuse_lost, refuse_members, steps_to
+from whomheeds.basics import are_numbers, arcs, askers_in, asks, firm_in, frozen, is_firm, is_number
+from whomheeds.basics import is_set_of_numbers, lost_ones, put_at, reach_of, refuse_askers, refuse_lost
+from whomheeds.basics import refuse_members, steps_to
 from whomheeds.errors import Unfit
 
 
@@ -23,14 +24,12 @@ def is_member(part, place, many):
 
 def askers(council):
     """The set of the numbers of the askers."""
-    council = frozen(council)
-    return tuple([number for number in range(len(council)) if not is_firm(council, number)])
+    return askers_in(frozen(council))
 
 
 def firm_ones(council):
     """The set of the numbers of the firm MEMBERS."""
-    council = frozen(council)
-    return tuple([number for number in range(len(council)) if is_firm(council, number)])
+    return firm_in(frozen(council))
 
 
 def asked_by(council, member):

@@ -1,10 +1,9 @@
 """FOLLOWINGS: counted, listed, led to one another, priced (section 5)."""
 
-from whomheeds.basics import are_numbers, arcs, ascend, frozen, is_firm, is_number, is_set_of_numbers
-from whomheeds.basics import lost_ones, put_at, reach_of, refuse
-from whomheeds.councils import askers
+from whomheeds.basics import are_numbers, arcs, ascend, askers_in, frozen, is_firm, is_number, is_set_of_numbers
+from whomheeds.basics import lost_ones, put_at, reach_of, refuse, shut_among
 from whomheeds.errors import NoNumber, Unfit
-from whomheeds.voices import equal_weights, total_weight, weight_to
+from whomheeds.voices import even_weights, lone, solved, weight_of_all, weight_to
 
 
 def is_following(council, thing):
@@ -56,7 +55,7 @@ def product_of(council, weights, following):
 
 def numbers_followed(council, rows, following):
     """The numbers, in rows that are like WEIGHTS, of the arcs that the FOLLOWING follows."""
-    return [rows[asker][council[asker].index(following[asker])] for asker in askers(council)]
+    return [rows[asker][council[asker].index(following[asker])] for asker in askers_in(council)]
 
 
 def how_many(council):
@@ -68,7 +67,7 @@ def how_many(council):
 
 def count_of(council):
     """How many FOLLOWINGS there are; 0 if somebody is lost."""
-    return 0 if lost_ones(council) else total_weight(council, equal_weights(council))
+    return weight_of_all(council, even_weights(council))
 
 
 def how_many_with(council, choices):
@@ -91,17 +90,72 @@ def how_many_ending(council, member, firm):
     """By how many FOLLOWINGS member ends at firm."""
     council = frozen(council)
     refuse(council, (member, firm), (), (firm,))
-    return weight_to(council, equal_weights(council), member, firm)
+    return weight_to(council, even_weights(council), member, firm)
 
 
 def all_followings(council):
     """The ascending list of all FOLLOWINGS."""
     council = frozen(council)
     refuse(council)
-    begun = [council]
-    for asker in askers(council):
-        begun = [narrow for wide in begun for narrow in ways_on(wide, asker)]
-    return [told_by(narrow) for narrow in begun]
+    return [row for row, _ in rows_and_ends(council)]
+
+
+def rows_and_ends(council):
+    """For each FOLLOWING, ascending, the pair of it and its ENDS."""
+    plain = tuple(range(len(council)))
+    begun = [(plain, plain)]
+    chosen = askers_in(council)
+    for place, asker in enumerate(chosen):
+        begun = [(put_at(row, asker, goal), led_on(ends, asker, goal)) for row, ends in begun
+                 for goal in ways_left(council, ends, asker, chosen[place + 1:])]
+    return begun
+
+
+def led_on(ends, asker, goal):
+    """To whom each MEMBER comes, askers that are not asked yet standing still, when this one follows goal, too."""
+    return tuple([ends[goal] if end == asker else end for end in ends])
+
+
+def ways_left(council, ends, asker, later):
+    """Those whom asker may follow, such that all later ones can still follow somebody to a firm one."""
+    if len(council[asker]) == 1:
+        return council[asker]
+    asked = {number: [ends[goal] for goal in council[number]] for number in later}
+    asked[asker] = ()
+    shut = shut_among(asked, asked)
+    return [goal for goal in council[asker] if ends[goal] not in shut]
+
+
+def arc_counts(council, asker):
+    """For each one that asker asks how many FOLLOWINGS follow this arc.
+
+    They are those of the COUNCIL with asker firm by which the one that is asked does not end at it.
+    """
+    cut = put_at(council, asker, 0)
+    total, table = solved(cut, even_weights(cut), [lone(cut, asker)])
+    return [total - table[goal][0] for goal in council[asker]]
+
+
+def nth_following(council, number):
+    """The FOLLOWING with this place in the ascending list of all."""
+    council = frozen(council)
+    refuse(council)
+    if not 0 <= number < count_of(council):
+        raise NoNumber(number)
+    ahead = number
+    for asker in branching(council):
+        counts = arc_counts(council, asker)
+        at = 0
+        while ahead >= counts[at]:
+            ahead -= counts[at]
+            at += 1
+        council = put_at(council, asker, (council[asker][at],))
+    return told_by(council)
+
+
+def branching(council):
+    """The askers that ask two or more."""
+    return [asker for asker in askers_in(council) if len(council[asker]) > 1]
 
 
 def ways_on(council, asker):
@@ -115,32 +169,14 @@ def told_by(council):
     return tuple([goals_of(council, number)[0] for number in range(len(council))])
 
 
-def nth_following(council, number):
-    """The FOLLOWING with this place in the ascending list of all."""
-    council = frozen(council)
-    refuse(council)
-    if not 0 <= number < count_of(council):
-        raise NoNumber(number)
-    ahead = number
-    for asker in askers(council):
-        for narrow in ways_on(council, asker):
-            many = count_of(narrow)
-            if ahead < many:
-                council = narrow
-                break
-            ahead -= many
-    return told_by(council)
-
-
 def place_of(council, following):
     """The place of the FOLLOWING in the ascending list of all."""
     council, following = frozen((council, following))
     refuse(council)
     place = 0
-    for asker in askers(council):
-        for goal in council[asker]:
-            if goal < following[asker]:
-                place += count_of(put_at(council, asker, (goal,)))
+    for asker in branching(council):
+        at = council[asker].index(following[asker])
+        place += sum(arc_counts(council, asker)[:at])
         council = put_at(council, asker, (following[asker],))
     return place
 
@@ -160,9 +196,12 @@ def completed(council, choices):
     council = narrowed_by(council, choices)
     if lost_ones(council):
         return None
-    for asker in askers(council):
-        council = ways_on(council, asker)[0]
-    return told_by(council)
+    row = ends = tuple(range(len(council)))
+    chosen = askers_in(council)
+    for place, asker in enumerate(chosen):
+        goal = ways_left(council, ends, asker, chosen[place + 1:])[0]
+        row, ends = put_at(row, asker, goal), led_on(ends, asker, goal)
+    return row
 
 
 def turned(council, following, asker, member):
@@ -252,7 +291,7 @@ def cheapest_following(council, prices):
     refuse(council)
     costs = price_table(council, prices)
     least = least_price(council, costs)
-    for asker in askers(council):
+    for asker in askers_in(council):
         for narrow in ways_on(council, asker):
             if least_price(narrow, costs) == least:
                 council = narrow
@@ -262,7 +301,7 @@ def cheapest_following(council, prices):
 
 def price_table(council, prices):
     """A dict with the price of each arc."""
-    return {(asker, goal): price for asker in askers(council)
+    return {(asker, goal): price for asker in askers_in(council)
             for goal, price in zip(council[asker], prices[asker])}
 
 
@@ -319,7 +358,7 @@ def is_laying(council, prices, thing):
 
 def are_lots(council, thing):
     """Whether thing is an ascending tuple of pairs (lot, number), the lots unlike sets of askers, not ()."""
-    chosen = askers(council)
+    chosen = askers_in(council)
     if not isinstance(thing, tuple) or not all([is_lot(chosen, pair) for pair in thing]):
         return False
     return ascend([lot for lot, _ in thing])

@@ -2,8 +2,8 @@
 
 from math import gcd, lcm
 
-from whomheeds.basics import added_up, are_numbers, asks, frozen, is_firm, lowest, put_at, refuse
-from whomheeds.councils import askers, firm_ones
+from whomheeds.basics import added_up, are_numbers, are_tuples, asks, askers_in, firm_in, frozen, is_firm, lowest
+from whomheeds.basics import put_at, refuse
 from whomheeds.errors import Unfit
 
 
@@ -11,6 +11,11 @@ def is_weights(council, thing):
     """Whether thing is WEIGHTS of the COUNCIL, however great."""
     council = frozen(council)
     refuse(council)
+    return are_weights(council, thing)
+
+
+def are_weights(council, thing):
+    """As is_weights, nothing refused."""
     if not isinstance(thing, tuple) or len(thing) != len(council):
         return False
     return all([is_row(row, len(asks(council, number))) for number, row in enumerate(thing)])
@@ -25,6 +30,11 @@ def equal_weights(council):
     """The WEIGHTS that are 1 throughout."""
     council = frozen(council)
     refuse(council)
+    return even_weights(council)
+
+
+def even_weights(council):
+    """As equal_weights, nothing refused."""
     return tuple([(1,) * len(asks(council, number)) for number in range(len(council))])
 
 
@@ -98,85 +108,138 @@ def off_means(council, weights, voice):
     return tuple([number for number in range(len(council)) if voice[number] != due[number]])
 
 
-def tree_sums(council, weights):
-    """A pair: the total weight, and a row for each MEMBER, its weights to the firm ones.
+def equations(council, weights):
+    """For each asker the equation that it holds the mean of what it hears, as a list of whole numbers.
 
-    A row has the weight to each firm one at its number, and 0 at the askers. That an asker holds the mean of
-    what it hears is an equation in whole numbers; these are solved together, nothing being divided with a rest.
-    By the matrix tree theorem the last pivot is the total weight, and what is left are the weights to firm ones.
+    Times what the askers hold these add up to what the asker hears of firm ones, each times its weight. By the
+    matrix tree theorem the determinant is the total weight.
     """
-    chosen = askers(council)
-    rows = [mean_row(council, weights, asker) for asker in chosen]
-    total = 1
-    for place, asker in enumerate(chosen):
-        pivot = rows[place]
-        rows = [row if at == place else cleared(row, pivot, asker, total) for at, row in enumerate(rows)]
-        total = pivot[asker]
-    table = [[total if goal == number else 0 for goal in range(len(council))] for number in range(len(council))]
-    firm = firm_ones(council)
-    for asker, row in zip(chosen, rows):
-        table[asker] = [-row[goal] if goal in firm else 0 for goal in range(len(council))]
-    return (total, table)
+    chosen = askers_in(council)
+    return [equation(council, weights, asker, chosen) for asker in chosen]
 
 
-def mean_row(council, weights, asker):
-    """Numbers, one for each MEMBER, that times what these hold add up to 0: the sum of the weights for the asker."""
-    row = [0] * len(council)
+def equation(council, weights, asker, chosen):
+    row = {number: 0 for number in chosen}
+    row[asker] = sum(weights[asker])
     for goal, weight in zip(council[asker], weights[asker]):
-        row[goal] -= weight
-        row[asker] += weight
-    return row
+        if goal in row:
+            row[goal] -= weight
+    return list(row.values())
 
 
-def cleared(row, pivot, column, last):
-    """The row, so many times, less the pivot's row, so many times, that nothing is left of it in this column.
+def heard(council, weights, asker, held):
+    """What the asker hears of firm ones that hold these numbers, each times its weight."""
+    return sum([weight * held[goal] for goal, weight in zip(council[asker], weights[asker]) if is_firm(council, goal)])
 
-    It is divided by the pivot ahead, last, which always divides it (Bareiss), so that numbers stay small. In a
-    sound COUNCIL no pivot is 0: each is the total weight if the askers behind its own were firm.
+
+def cleared(row, pivot, last):
+    """What is left of the row when so many times the pivot's row is taken from so many times this one.
+
+    It is divided by the pivot ahead, last, which always divides it (Bareiss), so that numbers stay small.
     """
-    own, other = pivot[column], row[column]
-    return [(own * part - other * below) // last for part, below in zip(row, pivot)]
+    own, other = pivot[0], row[0]
+    if other == 0 and own == last:
+        return row[1:]
+    return [(own * part - other * below) // last for part, below in zip(row[1:], pivot[1:])]
+
+
+def pivots(rows):
+    """The numbers 1, then each pivot: the determinants of the first rows, one, two and so on, up to one that is 0.
+
+    In a sound COUNCIL none is 0: each is the total weight if the askers behind its own were firm.
+    """
+    found = [1]
+    while rows and found[-1] != 0:
+        first, last = rows[0], found[-1]
+        found.append(first[0])
+        rows = [cleared(row, first, last) for row in rows[1:]]
+    return found
+
+
+def weight_of_all(council, weights):
+    """The total weight; 0 if somebody is lost."""
+    return pivots(equations(council, weights))[-1]
+
+
+def sum_parts(council, weights, total):
+    """The value of the SUM as a pair: its top and its bottom, this being the total weight; maybe not in least terms.
+
+    The SUM stands below the equations as one row more; the determinant of them all is its value, times the
+    total weight.
+    """
+    rows = [row + [heard(council, weights, asker, council)]
+            for asker, row in zip(askers_in(council), equations(council, weights))]
+    own = sum([total[number] * council[number] for number in firm_in(council)])
+    rows.append([-total[asker] for asker in askers_in(council)] + [own])
+    bottom, top = pivots(rows)[-2:]
+    return (top, bottom)
+
+
+def solved(council, weights, held):
+    """A pair: the total weight, and a row for each MEMBER: so many times what it holds, for each row in held.
+
+    A row in held has a number for each firm one at its place: what this one holds.
+    """
+    chosen = askers_in(council)
+    rows = [row + [heard(council, weights, asker, numbers) for numbers in held]
+            for asker, row in zip(chosen, equations(council, weights))]
+    last = 1
+    for place in range(len(chosen)):
+        first = rows[place]
+        rows = [row[1:] if at == place else cleared(row, first, last) for at, row in enumerate(rows)]
+        last = first[0]
+    found = dict(zip(chosen, rows))
+    for firm in firm_in(council):
+        found[firm] = [last * numbers[firm] for numbers in held]
+    return (last, [found[number] for number in range(len(council))])
+
+
+def lone(council, number):
+    """For each MEMBER 0, but 1 for this one."""
+    return put_at((0,) * len(council), number, 1)
+
+
+def shares_table(council, weights):
+    """A pair: the total weight, and a row for each MEMBER: at each firm one its weight to it, at askers 0."""
+    firm = firm_in(council)
+    total, table = solved(council, weights, [lone(council, number) for number in firm])
+    rows = [dict(zip(firm, row)) for row in table]
+    return (total, [tuple([row.get(number, 0) for number in range(len(council))]) for row in rows])
+
+
+def voice_of(council, weights):
+    """As voice_by, nothing refused."""
+    total, table = solved(council, weights, [council])
+    return tuple([lowest(row[0], total) for row in table])
 
 
 def voice_by(council, weights):
     """The VOICE by these WEIGHTS."""
     council, weights = frozen((council, weights))
     refuse(council)
-    total, table = tree_sums(council, weights)
-    return tuple([voice_of(council, total, row) for row in table])
-
-
-def voice_of(council, total, row):
-    """The FRACTION that a MEMBER holds that has this row of weights to firm ones."""
-    held = [council[number] * row[number] for number in range(len(council)) if is_firm(council, number)]
-    return lowest(sum(held), total)
+    return voice_of(council, weights)
 
 
 def is_voice(council, weights, thing):
     """Whether thing is the VOICE by these WEIGHTS."""
     voice = voice_by(council, weights)
     # Kinds are looked at first: for Python (True, 1) == (1, 1).
-    return is_row_of_pairs(thing) and thing == voice
-
-
-def is_row_of_pairs(thing):
-    """Whether thing is a tuple of pairs of numbers."""
-    return isinstance(thing, tuple) and all([are_numbers(part) and len(part) == 2 for part in thing])
+    return are_tuples(thing, 2) and all([are_numbers(part) for part in thing]) and thing == voice
 
 
 def share(council, weights, member, firm):
     """The share of firm in member; a FRACTION."""
     council, weights = frozen((council, weights))
     refuse(council, (member, firm), (), (firm,))
-    total, table = tree_sums(council, weights)
-    return lowest(table[member][firm], total)
+    total, table = solved(council, weights, [lone(council, firm)])
+    return lowest(table[member][0], total)
 
 
 def shares(council, weights, member):
     """For each MEMBER a FRACTION: for a firm one its share in member, for an asker 0."""
     council, weights = frozen((council, weights))
     refuse(council, (member,))
-    total, table = tree_sums(council, weights)
+    total, table = shares_table(council, weights)
     return tuple([lowest(number, total) for number in table[member]])
 
 
@@ -189,7 +252,7 @@ def same_shares(council, weights, other):
 
 def all_shares(council, weights):
     """For each MEMBER the list of the shares in it."""
-    total, table = tree_sums(council, weights)
+    total, table = shares_table(council, weights)
     return [[lowest(number, total) for number in row] for row in table]
 
 
@@ -197,25 +260,38 @@ def total_weight(council, weights):
     """The sum, over all FOLLOWINGS, of the product of the weights of the arcs that they follow."""
     council, weights = frozen((council, weights))
     refuse(council)
-    return tree_sums(council, weights)[0]
+    return weight_of_all(council, weights)
 
 
 def weight_to(council, weights, member, firm):
     """The sum of these products over the FOLLOWINGS by which member ends at firm."""
     council, weights = frozen((council, weights))
     refuse(council, (member, firm), (), (firm,))
-    return tree_sums(council, weights)[1][member][firm]
+    return solved(council, weights, [lone(council, firm)])[1][member][0]
 
 
 def sum_at(council, weights, total):
     """The value of the SUM by these WEIGHTS; a FRACTION."""
-    return added_up(frozen(total), voice_by(council, weights))
+    council, weights, total = frozen((council, weights, total))
+    refuse(council)
+    return value_of(council, weights, total)
+
+
+def value_of(council, weights, total):
+    """As sum_at, nothing refused."""
+    top, bottom = sum_parts(council, weights, total)
+    return lowest(top, bottom)
 
 
 def wish_at(council, weights, wish):
     """The value of the WISH by these WEIGHTS; a FRACTION."""
     council, weights, wish = frozen((council, weights, wish))
-    named = [number for member, firm, _ in wish for number in (member, firm)]
-    refuse(council, named, (), [triple[1] for triple in wish])
-    total, table = tree_sums(council, weights)
+    refuse_in_wish(council, wish)
+    total, table = shares_table(council, weights)
     return lowest(sum([number * table[member][firm] for member, firm, number in wish]), total)
+
+
+def refuse_in_wish(council, wish):
+    """Raises what is due for the numbers in the WISH, or as the COUNCIL is not sound."""
+    named = [number for member, firm, _ in wish for number in (member, firm)]
+    refuse(council, named, (), [firm for _, firm, _ in wish])
