@@ -187,3 +187,17 @@ def is_between(fraction, low, high):
     if low == high:
         return fraction == (low, 1)
     return low * bottom < top < high * bottom
+
+
+def is_less(one, other):
+    """Whether the one fraction is less than the other."""
+    return one[0] * other[1] < other[0] * one[1]
+
+
+def farthest(pairs, sign):
+    """Of pairs, each with a fraction behind, the front of the first one with the greatest; for sign -1 the least."""
+    best, (best_top, best_bottom) = pairs[0]
+    for front, (top, bottom) in pairs[1:]:
+        if (top * best_bottom - best_top * bottom) * sign > 0:
+            best, best_top, best_bottom = front, top, bottom
+    return best

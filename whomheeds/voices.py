@@ -38,6 +38,25 @@ def even_weights(council):
     return tuple([(1,) * len(asks(council, number)) for number in range(len(council))])
 
 
+def weights_on(council, lots, number):
+    """The WEIGHTS with number for those of the lot at the asker's place, 1 for all others that it asks."""
+    return tuple([tuple([number if goal in lot else 1 for goal in asks(council, member)])
+                  for member, lot in enumerate(lots)])
+
+
+def loud_enough(council, over):
+    """A number so great that by weights_on with it, and lots to whose mean a value comes, it comes close enough.
+
+    Close enough to be below what it must be below, if by plain means over lots it is so by a whole number, added
+    up over their FOLLOWINGS, and if it goes beyond by over at the most by any FOLLOWING. There are not more
+    FOLLOWINGS than the product below, and one that leaves the lots has one loud arc less at least.
+    """
+    many = 1
+    for asker in askers_in(council):
+        many *= len(council[asker])
+    return 1 + many * max(0, over)
+
+
 def louder(council, weights, asker, number):
     """The WEIGHTS in which each weight of this asker is so many times as great."""
     council, weights = frozen((council, weights))
