@@ -25,6 +25,17 @@ def arcs(council):
     return [(a, b) for a in range(len(council)) for b in asks(council, a)]
 
 
+def firm_roads(council, member):
+    """Every ROAD from the MEMBER to a firm one, ascending."""
+    found, begun = [], [(member,)]
+    while begun:
+        road = begun.pop()
+        if is_firm(council, road[-1]):
+            found.append(road)
+        begun.extend(road + (goal,) for goal in asks(council, road[-1]) if goal not in road)
+    return sorted(found)
+
+
 def all_roads(council):
     """Every ROAD: every row of unlike MEMBERS, tried."""
     found = []
@@ -200,3 +211,35 @@ def is_laying(council, prices, x):
         if sum(number for lot, number in x if asker in lot and goal not in lot) > price:
             return False
     return sum(number for _, number in x) == least_price(council, prices)
+
+
+def sums(council, total):
+    """The values of the SUM by the ENDS of all FOLLOWINGS."""
+    return [sum(n * council[end] for n, end in zip(total, ends(row))) for row in followings(council)]
+
+
+def wish_by(wish, told):
+    return sum(number for member, firm, number in wish if told[member] == firm)
+
+
+def wishes(council, wish):
+    """The values of the WISH by the ENDS of all FOLLOWINGS."""
+    return [wish_by(wish, ends(row)) for row in followings(council)]
+
+
+def value(council, weights, total):
+    """The value of the SUM by WEIGHTS, as Python's Fraction."""
+    return sum((part * n for part, n in zip(voice(council, weights), total)), Fraction(0))
+
+
+def comes(values, fraction):
+    """Whether the fraction is strictly between the least and the greatest of the values, or just this one."""
+    return min(values) < fraction < max(values) or min(values) == fraction == max(values)
+
+
+def near(values):
+    """Fractions at, beside and between the least and the greatest of the values."""
+    low, high = min(values), max(values)
+    small = Fraction(1, 10 ** 30)
+    told = [low, high, Fraction(low + high) / 2, (2 * Fraction(low) + high) / 3, Fraction(0)]
+    return sorted({Fraction(part) + more for part in told for more in (-1, -small, 0, small, 1)})

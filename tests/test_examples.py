@@ -1,8 +1,8 @@
-"""Every example of sections 3 to 5 of the document, word for word."""
+"""Every example of sections 3 to 13 of the document, word for word."""
 
 import unittest
 
-from whomheeds import councils, errors, follows, voices
+from whomheeds import between, bounds, councils, errors, follows, gates, lots, orders, ranges, sums, unknown, voices
 
 COUNCILS = """
     >>> council, ring = (5, (0, 2), (1, 3), 9), (4, (2,), (1,), (0, 1))
@@ -65,11 +65,167 @@ FOLLOWS = """
     raises Unfit()
 """
 
+RANGES = """
+    >>> council = ((1, 3), (0, 2), 0, 6, (3, 5), 6, (4,))
+    >>> ends_at(council, 0), ends_at(council, 6), ends_at(council, 2), least_held(council, 1), greatest_held(council, 1), least_held(council, 6)
+    ((2, 3), (3, 5), (2,), 0, 6, 6)
+    >>> can_hold(council, 0, (5, 2)), can_hold(council, 0, (0, 1)), can_hold(council, 6, (6, 1)), can_hold(council, 3, (5, 1))
+    (True, False, True, False)
+    >>> always_above(council, 0, 0), always_above(council, 6, 6), always_from(council, 6, 6), always_above(council, 4, 5), always_from(council, 0, 1)
+    (True, False, True, True, False)
+    >>> is_low(council, 0, 1, ((9, 1), (1, 9), (), (), (1, 1), (), (1,))), is_low(council, 0, 1, ((1, 1), (1, 9), (), (), (1, 1), (), (1,))), low_weights(council, 6, 5)
+    (True, False, None)
+    >>> is_best(council, "greatest", (3, 0, 2, 3, 3, 5, 4)), is_best(council, "least", (1, 2, 2, 3, 5, 5, 4)), is_best(council, "least", (3, 2, 2, 3, 5, 5, 4))
+    (True, True, False)
+    >>> plain_value(council, "greatest", (2, 1, 0, -1, 0, 0, 1)), plain_value(council, "least", (2, 1, 0, -1, 0, 0, 1))
+    (18, 0)
+    >>> plain_value(council, "least", (0, -1, 0, 0, 0, 0, 0))
+    raises Unfit()
+    >>> least_held(council, 7)
+    raises NoMember(number=7)
+    >>> ends_at(((1,), (0,), 5), 2)
+    raises Lost(number=0)
+"""
+
+GATES = """
+    >>> kin, wide, split = ((1,), (2, 3), (1, 3), (4, 5), 6, 2), ((1, 3), (0, 4), (0, 1), 2, 9), ((1, 2), (2, 4), (1, 3), 6, 6)
+    >>> gates(kin, 0), gates(kin, 2), gates(kin, 4), leader(kin, 1), next_gate(kin, 0), next_gate(kin, 3), led_by(kin, 3)
+    ((0, 1, 3), (2, 3), (4,), 3, 1, None, (0, 1, 2, 3))
+    >>> common_gates(kin, (0, 1)), common_gates(kin, (0, 4)), lots_by_leader(kin), gates(wide, 2)
+    ((1, 3), (), ((0, 1, 2, 3), (4,), (5,)), (2,))
+    >>> alike_always(kin, 0, 2), apart_roads(kin, 0, 2), apart_roads(wide, 0, 1), is_apart_roads(wide, 1, 0, ((1, 4), (0, 3)))
+    (True, None, ((0, 3), (1, 4)), True)
+    >>> alike_always(split, 1, 2), alike(split, 1, 2), unlike_roads(split, 1, 2), is_apart_roads(split, 1, 2, ((1, 4), (2, 3))), lots_alike(split)
+    (False, True, None, True, ((0, 1, 2, 3, 4),))
+    >>> is_apart_roads(wide, 0, 1, ((0, 1, 4), (1, 4))), is_unlike_roads(wide, 2, 2, ((2, 0, 3), (2, 1, 4)))
+    (False, False)
+    >>> parting_arcs(((1,), (2, 3), 0, 1), 0, 1), parting_arcs(wide, 0, 1)
+    (((0, 2), (0, 3)), ())
+    >>> gates(((1,), (0,), 3), 2)
+    raises Lost(number=0)
+"""
+
+SUMS = """
+    >>> council = (0, 6, (0, 3), (1, 2), (2, 3))
+    >>> gap, spread = (0, 0, -1, 1, 0), (0, 0, -1, -1, 2)
+    >>> least_value(council, gap), greatest_value(council, gap), sign_of(council, gap), holds(council, gap, 0), holds(council, gap, 1), sign_of(council, spread), least_value(council, spread)
+    (0, 6, 'above', True, False, 'either', -6)
+    >>> against(council, spread, -5), against(council, gap, 0), value_at(council, (0, 1, 0, 1, 2), spread), is_against(council, spread, 0, (0, 1, 3, 2, 2)), is_against(council, gap, 1, (0, 1, 0, 2, 3))
+    ((0, 1, 0, 1, 2), None, -6, False, True)
+    >>> shown = loud(council, (0, 1, 0, 1, 2), 10)
+    >>> shown, is_weights_against(council, spread, -4, shown), is_weights_against(council, spread, -5, shown), is_weights_against(council, spread, 0, ((), (), (1, 1), (1, 1), (1, 1))), weights_against(council, gap, 0)
+    (((), (), (10, 1), (10, 1), (10, 1)), True, False, False, None)
+    >>> beside(council, 2, 3), beside(council, 4, 2), beside(council, 0, 0), surely_below(council), sign_of(council, (3, 0, 0, 0, 0))
+    ('below', 'above', 'alike', [(0, 1), (0, 2), (0, 3), (0, 4), (2, 1), (2, 3), (2, 4), (3, 1), (4, 1), (4, 3)], 'nothing')
+    >>> both = ((3, 0, 1), (2, 1, 1))
+    >>> least_wish(council, both), greatest_wish(council, both), sign_of_wish(council, both), is_against_wish(council, both, 1, (0, 1, 0, 1, 3)), wish_of(council, gap)
+    (0, 1, 'above', True, ((2, 1, -6), (3, 1, 6)))
+    >>> beside(council, 5, 6)
+    raises NoMember(number=5)
+    >>> holds((5, (2,), (1,)), (0, 0, 0), 1)
+    raises Lost(number=1)
+"""
+
+BETWEEN = """
+    >>> council = (0, 6, (0, 3), (1, 2), (2, 3))
+    >>> even, first = ((), (), (1, 1), (1, 1), (1, 1)), (0, 0, 1, 0, 0)
+    >>> comes(council, first, (3, 1)), comes(council, first, (6, 1)), comes(council, (0, 0, -1, 1, 0), (0, 1)), weights_for(council, first, (7, 1))
+    (True, False, False, None)
+    >>> way_of(council, even, 2, (1, 4), first), crossing(council, even, 2, (1, 4), first, (3, 1)), mixed(council, even, 2, (1, 4), (1, 3)), is_weights_for(council, first, (3, 1), ((), (), (1, 2), (1, 1), (1, 1)))
+    ('up', (1, 3), ((), (), (1, 2), (1, 1), (1, 1)), True)
+    >>> crossing(council, even, 2, (1, 4), first, (5, 1)), way_of(council, even, 4, (1, 9), first), crossing(council, even, 4, (1, 9), first, (2, 1)), mixed(council, even, 3, (6, 9), (1, 1))
+    (None, 'same', (0, 1), ((), (), (1, 1), (2, 3), (1, 1)))
+    >>> later = ((), (), (1, 4), (5, 1), (2, 2))
+    >>> len(steps_between(council, even, later)), steps_between(council, even, later)[1] == set_row(council, even, 2, (1, 4)), steps_between(council, even, later)[-1] == later
+    (4, True, True)
+    >>> step_at(council, even, later, first, (3, 1)), step_at(council, even, later, first, (9, 2)), step_at(council, even, later, first, (2, 1)), step_at(council, even, later, first, (5, 1))
+    (2, 3, None, None)
+    >>> between_weights(council, even, later, first, (3, 1)), between_weights(council, even, later, first, (2, 1)) == even, between_weights(council, even, later, first, (5, 1))
+    (((), (), (1, 2), (1, 1), (1, 1)), True, None)
+    >>> mixed(council, even, 1, (), (1, 2))
+    raises NoAsker(number=1)
+"""
+
+ORDERS = """
+    >>> council = ((1, 3), (0, 2), 0, 6)
+    >>> voice, wrong = ((4, 1), (2, 1), (0, 1), (6, 1)), ((1, 1), (2, 1), (0, 1), (6, 1))
+    >>> misfits(council, voice), misfits(council, wrong), can_be_voice(council, wrong), is_weights_of(council, voice, ((1, 1), (1, 1), (), ()))
+    ((), (0, 1), False, True)
+    >>> may_hold(council, wrong, 0), may_hold(council, wrong, 1), mended_by(council, wrong), weights_of_voice(council, wrong)
+    (((2, 1), (6, 1)), ((0, 1), (1, 1)), (0, 1), None)
+    >>> order_of(council, voice), all_orders(council), how_they_stand(council, 0, 1), how_they_stand(council, 1, 1)
+    (((2,), (1,), (0,), (3,)), [((2,), (1,), (0,), (3,))], ('above',), ('alike',))
+    >>> is_order(council, ((2, 3), (0, 1))), is_let(council, ((2,), (0, 1), (3,))), voice_with(council, ((2,), (0, 1), (3,)))
+    (False, False, None)
+    >>> trio = ((1, 2, 3), 0, 6, (1, 2))
+    >>> all_orders(trio)
+    [((1,), (0,), (3,), (2,)), ((1,), (0, 3), (2,)), ((1,), (3,), (0,), (2,))]
+    >>> may_hold(((1,), (2, 3), 0, 4), ((3, 1), (1, 1), (0, 1), (4, 1)), 1)
+    ((3, 1), (3, 1))
+    >>> misfits(council, ((4, 1), (2, 1), (1, 1), (6, 1)))
+    raises Unfit()
+    >>> may_hold(council, voice, 2)
+    raises NoAsker(number=2)
+"""
+
+UNKNOWN = """
+    >>> council, order, gap = (0, 6, (0, 3), (1, 2)), ((0, 1),), (0, 0, -1, 1)
+    >>> is_told_order(council, order), is_told_order(council, ((0, 0),)), is_in_order(council, order, ((0, 4), (1, 4))), is_in_order(council, order, ((0, 5), (1, 4))), upward_sets(council, order), upward_sets(council, ())
+    (True, False, True, False, [(), (0, 1), (1,)], [(), (0,), (0, 1), (1,)])
+    >>> holds_in_order(council, order, gap), holds_in_order(council, (), gap), holds_in_order(council, order, (0, 0, 1, 0)), holds_from_zero(council, order, (0, 0, 1, 0)), against_in_order(council, order, gap)
+    (True, False, False, True, None)
+    >>> is_against_in_order(council, (), gap, ((0, 1, 0, 1), ((0, 1), (1, 0)))), is_against_in_order(council, order, gap, ((0, 1, 0, 1), ((0, 1), (1, 0))))
+    (True, False)
+    >>> is_nothing_in_order(council, ((0, 1), (1, 0)), gap), is_nothing_in_order(council, order, gap), idle_pairs(council, ((0, 1), (1, 0)), gap)
+    (True, False, ((1, 0),))
+    >>> at_most(council, order, 2, 3), at_most(council, (), 2, 3), at_most(council, order, 2, 0), needed_pairs(council, 2, 3), needed_pairs(council, 3, 2)
+    (True, False, False, ((0, 1),), ((1, 0),))
+    >>> least_by_firm(council, ((0, -1, 2),), gap), greatest_by_firm(council, ((0, -1, 2),), gap), stretch_by_firm(council, ((0, -1, 2),), 3)
+    (0, 7, (-1, 6))
+    >>> holds_in_order(council, ((0, 2),), gap)
+    raises NoFirm(number=2)
+"""
+
+BOUNDS = """
+    >>> council, bounds, total = ((1, 2), (0, 3), 0, 12), (((1, 2), (1, 1)), ((1, 1), (1, 3)), (), ()), (-1, 1, 0, 0)
+    >>> [fit_bounds(council, bounds, (own, (2, 2), (), ())) for own in ((4, 2), (3, 2), (1, 2), (5, 2))]
+    [True, True, False, False]
+    >>> how_many_corners(council, bounds), nth_corner(council, bounds, 2), is_corner(council, bounds, ((2, 2), (1, 1), (), ()))
+    (4, ((2, 1), (1, 1), (), ()), False)
+    >>> highest_voice(council, bounds), lowest_voice(council, bounds), highest_corner(council, bounds)
+    (((36, 5), (54, 5), (0, 1), (12, 1)), ((4, 1), (8, 1), (0, 1), (12, 1)), ((2, 1), (1, 3), (), ()))
+    >>> may_hold_within(council, bounds, 0, (15, 2)), is_lowest(council, bounds, ((7, 7), (5, 5), (), ()))
+    (False, True)
+    >>> least_within(council, bounds, total), greatest_within(council, bounds, total), corner_of_greatest(council, bounds, total)
+    ((3, 1), (36, 7), ((1, 1), (1, 3), (), ()))
+    >>> is_weights_within(council, bounds, total, (9, 2), ((1, 1), (2, 3), (), ())), weights_within(council, bounds, total, (6, 1))
+    (True, None)
+    >>> wide = (((1, 4), (1, 2)), ((1, 1), (1, 3)), (), ())
+    >>> narrower(council, bounds, wide), narrower(council, wide, bounds)
+    (True, False)
+"""
+
+LOTS = """
+    >>> council, heeds = ((1, 2, 3), (0, 3), 12, 0), ((0, 2, 1), (0, 2, 3))
+    >>> lots_of(council, heeds, 0), lots_of(council, heeds, 1), value_by_lots(council, ((1, 2, 3), (0, 3), (), ()), (1, 0, 0, 0)), len(all_lots(council, heeds))
+    ([(1, 2), (1, 2, 3), (2,), (2, 3)], [(0,), (0, 3), (3,)], (24, 5), 12)
+    >>> heeded(council, heeds, (1, 0, 0, 0)), heeded(((1, 2), 6, 0), ((0, 1, 2),), (1, 0, 0))
+    (((4, 1), (12, 1), False, False), ((3, 1), (6, 1), True, False))
+    >>> holds_heeded(council, heeds, (1, 0, 0, 0), 4), strictly_heeded(council, heeds, (1, 0, 0, 0), 4), [is_heeding_against(council, heeds, (1, 0, 0, 0), 5, (mine, (1, 9), (), ())) for mine in ((1, 1, 1), (2, 1, 1), (1, 9, 1))]
+    (True, True, [True, False, False])
+    >>> heeding_weights(council, heeds, (1, 0, 0, 0), (12, 1)), is_high_lots(council, heeds, ((2,), (0,), (), ())), is_low_lots(council, heeds, ((1, 2, 3), (3,), (), ())), heeded_range(council, heeds, 1)
+    (None, True, True, ((0, 1), (12, 1), False, False))
+    >>> all_heeds(council, ((0, 1, 3),) + heeds[:1]), needless_heeds(council, ((0, 1, 3), (0, 2, 1), (0, 2, 3)))
+    (((0, 1, 3), (0, 2, 1), (0, 2, 3)), ((0, 2, 3),))
+    >>> value_by_lots(((1, 2), (0, 2), 5), ((1,), (0,), ()), (1, 0, 0))
+    raises Unfit()
+"""
+
 
 def functions():
-    """All that the three files hold, by name."""
+    """All that the files hold, by name."""
     found = {}
-    for module in (councils, voices, follows):
+    for module in (councils, voices, follows, ranges, gates, sums, between, orders, unknown, bounds, lots):
         found.update({name: part for name, part in vars(module).items() if not name.startswith("_")})
     return found
 
@@ -78,6 +234,7 @@ class Examples(unittest.TestCase):
 
     def run_examples(self, text):
         names = functions()
+        self.assertGreater(text.count(">>>"), 4)
         rows = [row.strip() for row in text.strip().splitlines()]
         for row, reply in zip(rows, rows[1:] + [""]):
             if not row.startswith(">>> "):
@@ -104,6 +261,30 @@ class Examples(unittest.TestCase):
 
     def test_follows(self):
         self.run_examples(FOLLOWS)
+
+    def test_ranges(self):
+        self.run_examples(RANGES)
+
+    def test_gates(self):
+        self.run_examples(GATES)
+
+    def test_sums(self):
+        self.run_examples(SUMS)
+
+    def test_between(self):
+        self.run_examples(BETWEEN)
+
+    def test_orders(self):
+        self.run_examples(ORDERS)
+
+    def test_unknown(self):
+        self.run_examples(UNKNOWN)
+
+    def test_bounds(self):
+        self.run_examples(BOUNDS)
+
+    def test_lots(self):
+        self.run_examples(LOTS)
 
 
 if __name__ == "__main__":

@@ -7,7 +7,7 @@ import pathlib
 import unittest
 
 from tests import calls
-from whomheeds import follows, councils
+from whomheeds import between, councils, follows, lots, orders, sums, unknown
 
 
 def lists_throughout(value):
@@ -102,20 +102,26 @@ class Arguments(unittest.TestCase):
             self.assertEqual(calls.outcome(function, arguments), calls.outcome(function, arguments))
 
     def test_results_hold_tuples(self):
-        """Lists are returned by roads and all_followings alone, and lie in nothing else."""
+        """Lists are returned by some functions alone, and lie in nothing else."""
         for function, arguments in calls.all_calls():
             told = lists_throughout(arguments)
             if calls.outcome(function, told).startswith("raises"):
                 continue
             result = function(*told)
-            is_list = function in (councils.roads, follows.all_followings)
+            is_list = function in calls.LISTING
             self.assertEqual(isinstance(result, list), is_list, function.__name__)
             inside = [part for whole in result for part in parts_of(whole)] if is_list else parts_of(result)
             self.assertFalse(any(isinstance(part, (list, dict, set)) for part in inside), function.__name__)
 
     def test_lists_are_new(self):
-        for function, arguments in ((councils.roads, (calls.C, 2, 1)), (follows.all_followings, (calls.C,)),
-                                    (councils.roads, (calls.C, 2, 2)), (follows.all_followings, ((5,),))):
+        more = [(councils.roads, (calls.C, 2, 2)), (follows.all_followings, ((5,),)), (sums.surely_below, ((5,),)),
+                (unknown.upward_sets, ((5,), ())), (orders.all_orders, ((5, 6),)), (lots.all_lots, ((5,), ())),
+                (between.steps_between, ((5,), ((),), ((),)))]
+        some = [(function, arguments) for function, arguments in calls.all_calls() if function in calls.LISTING]
+        self.assertEqual({function for function, _ in some}, set(calls.LISTING))
+        for function, arguments in some + more:
+            if calls.outcome(function, arguments).startswith("raises"):
+                continue
             first = function(*arguments)
             kept = list(first)
             first.append("more")
@@ -123,6 +129,13 @@ class Arguments(unittest.TestCase):
             self.assertEqual(second, kept)
             second.clear()
             self.assertEqual(function(*arguments), kept)
+
+    def test_lists_that_are_handed_in_come_out_as_tuples(self):
+        """What is returned shares nothing with a list that came in."""
+        council, rows, later = [0, 6, [0, 1]], [[], [], [1, 2]], [[], [], [3, 4]]
+        self.assertEqual(between.steps_between(council, rows, later), [((), (), (1, 2)), ((), (), (3, 4))])
+        self.assertEqual(between.between_weights(council, rows, later, [0, 0, 1], [4, 1]), ((), (), (1, 2)))
+        self.assertEqual(between.set_row(council, rows, 2, [7, 8]), ((), (), (7, 8)))
 
     def test_returned_values_come_in_again(self):
         council = councils.with_asker([5, [0]], [1])

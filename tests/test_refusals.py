@@ -2,18 +2,13 @@
 
 import unittest
 
-from tests import calls
+from tests import calls, refusing
+from tests.refusing import ANY, SAD, SADV, SADW
 from whomheeds import councils, follows, voices
 from whomheeds.errors import Lost, NoAsker, NoFirm, NoMember, NoNumber, Unfit
 
 C, W, V = calls.C, calls.W, calls.V
 FIRST, SECOND, PRICES = calls.FIRST, calls.SECOND, calls.PRICES
-
-# 0 and 4 are firm; 1 and 2, 5 and 6 ask one another alone; 3 reaches a firm one.
-SAD = (4, (2,), (1,), (0, 1), 9, (6,), (5,))
-SADW = ((), (1,), (1,), (1, 1), (), (1,), (1,))
-SADV = ((4, 1), (1, 1), (1, 1), (4, 1), (9, 1), (1, 1), (1, 1))
-ANY = (0, 2, 1, 0, 4, 6, 5)
 
 # Function, arguments, error, its number: of two or more that are due the one that comes first.
 FIRST_COME = (
@@ -106,14 +101,7 @@ CHOICES = (
 WITH_CHOICES = (follows.how_many_with, follows.goes_on, follows.shut_in, follows.completed)
 
 
-class Refusals(unittest.TestCase):
-
-    def check(self, function, arguments, error, number):
-        with self.subTest(function.__name__, arguments=arguments):
-            with self.assertRaises(error) as caught:
-                function(*arguments)
-            self.assertIs(caught.exception.__class__, error)
-            self.assertEqual(vars(caught.exception), {} if number is None else {"number": number})
+class Refusals(refusing.Case):
 
     def test_first_come(self):
         for function, arguments, error, number in FIRST_COME:
@@ -126,10 +114,7 @@ class Refusals(unittest.TestCase):
 
     def test_lost_is_raised_by_every_function_that_needs_a_sound_council(self):
         raising = [function for function, _, error, number in FIRST_COME if error is Lost and number == 1]
-        raising += WITH_CHOICES
-        for function in calls.parameters():
-            if function.__module__ != councils.__name__:
-                self.assertIn(function, raising, function.__name__)
+        self.check_all_are_there(raising + list(WITH_CHOICES), (voices, follows))
 
     def test_lost_is_the_first_lost_one(self):
         for council, number in (((5, (2,), (1,)), 1), (((1, 3), (2,), (1,), 5), 1), (((1,), (0,), 5), 0),
