@@ -243,3 +243,142 @@ def near(values):
     small = Fraction(1, 10 ** 30)
     told = [low, high, Fraction(low + high) / 2, (2 * Fraction(low) + high) / 3, Fraction(0)]
     return sorted({Fraction(part) + more for part in told for more in (-1, -small, 0, small, 1)})
+
+
+def misfits(council, told):
+    """The misfits of a voice of Python's Fractions."""
+    found = []
+    for k in askers(council):
+        heard = [told[goal] for goal in council[k]]
+        if not min(heard) < told[k] < max(heard) and set(heard) != {told[k]}:
+            found.append(k)
+    return tuple(found)
+
+
+def ranks(order):
+    return {member: place for place, some in enumerate(order) for member in some}
+
+
+def order_by(told):
+    """The sets of places with one and the same part, the lesser ones ahead."""
+    return tuple(tuple(k for k in range(len(told)) if told[k] == part) for part in sorted(set(told)))
+
+
+def is_order(council, x):
+    if type(x) is not tuple or not all(type(part) is tuple and part and all(map(is_number, part)) for part in x):
+        return False
+    if any(list(part) != sorted(set(part)) for part in x):
+        return False
+    if sorted(k for part in x for k in part) != list(range(len(council))):
+        return False
+    place = ranks(x)
+    return all((place[a] < place[b]) == (council[a] < council[b])
+               for a in firm_ones(council) for b in firm_ones(council))
+
+
+def is_let(council, order):
+    place = ranks(order)
+    for k in askers(council):
+        heard = [place[goal] for goal in council[k]]
+        both = any(at < place[k] for at in heard) and any(at > place[k] for at in heard)
+        if not both and not all(at == place[k] for at in heard):
+            return False
+    return True
+
+
+def all_orders(council):
+    """All let ORDERS: every way to give the askers places beside those of the firm ones, tried."""
+    numbers = sorted({council[k] for k in firm_ones(council)})
+    many = len(askers(council))
+    # Between two firm ones there is room for as many places as there are askers.
+    fixed = {number: place * (many + 1) for place, number in enumerate(numbers)}
+    options = [(fixed[part],) if isinstance(part, int) else range(-many, len(numbers) * (many + 1)) for part in council]
+    found = {order_by(row) for row in product(*options)}
+    return sorted(order for order in found if is_let(council, order))
+
+
+def pairs_of(numbers):
+    return [(a, b) for a in numbers for b in numbers if a != b]
+
+
+def held_by(numbers, told):
+    """What each MEMBER holds by these ENDS, told numbers of the firm ones."""
+    held = dict(numbers)
+    return [held[end] for end in told]
+
+
+def is_in_order(council, order, x):
+    if type(x) is not tuple or not all(type(part) is tuple and len(part) == 2 and all(map(is_number, part)) for part in x):
+        return False
+    if tuple(part[0] for part in x) != firm_ones(council):
+        return False
+    return all(dict(x)[a] <= dict(x)[b] for a, b in order)
+
+
+def is_pair_against(council, order, total, x, least):
+    """Whether x is a FOLLOWING and numbers from least on that keep the order, by which the SUM is below 0."""
+    if type(x) is not tuple or len(x) != 2 or type(x[0]) is not tuple or not all(map(is_number, x[0])):
+        return False
+    if x[0] not in followings(council) or not is_in_order(council, order, x[1]):
+        return False
+    if least is not None and any(number < least for _, number in x[1]):
+        return False
+    return sum(n * part for n, part in zip(total, held_by(x[1], ends(x[0])))) < 0
+
+
+def is_bounds(council, x):
+    if type(x) is not tuple or len(x) != len(council):
+        return False
+    for k, row in enumerate(x):
+        if type(row) is not tuple or len(row) != len(asks(council, k)):
+            return False
+        for part in row:
+            if type(part) is not tuple or len(part) != 2 or not all(map(is_number, part)) or not 1 <= part[0] <= part[1]:
+                return False
+    return True
+
+
+def corners(bounds):
+    """All CORNERS, ascending."""
+    rows = [sorted(set(product(*row))) for row in bounds]
+    return sorted(set(product(*rows)))
+
+
+def fits(bounds, weights):
+    """As the document tells it."""
+    return all(own * other_pair[0] <= other * own_pair[1]
+               for pairs, row in zip(bounds, weights)
+               for own, own_pair in zip(row, pairs) for other, other_pair in zip(row, pairs))
+
+
+def lots_of(council, heeds, asker):
+    found = []
+    for mask in range(1, 2 ** len(council[asker])):
+        lot = tuple(goal for k, goal in enumerate(council[asker]) if mask >> k & 1)
+        if all(one in lot for who, one, other in heeds if who == asker and other in lot):
+            found.append(lot)
+    return sorted(found)
+
+
+def narrowed(council, lots):
+    return tuple(part if isinstance(part, int) else lot for part, lot in zip(council, lots))
+
+
+def all_lots(council, heeds):
+    options = [[()] if isinstance(part, int) else lots_of(council, heeds, k) for k, part in enumerate(council)]
+    return [lots for lots in product(*options)
+            if all(firm_roads(narrowed(council, lots), k) for k in range(len(council)))]
+
+
+def voice_by_lots(council, lots):
+    narrow = narrowed(council, lots)
+    return voice(narrow, tuple((1,) * len(asks(narrow, k)) for k in range(len(council))))
+
+
+def sum_by_lots(council, lots, total):
+    return sum((n * part for n, part in zip(total, voice_by_lots(council, lots))), Fraction(0))
+
+
+def keeps_heeds(council, heeds, weights):
+    told = [dict(zip(asks(council, k), row)) for k, row in enumerate(weights)]
+    return all(told[asker][one] >= told[asker][other] for asker, one, other in heeds)
