@@ -112,6 +112,16 @@ class Crossing(unittest.TestCase):
         made = mixed(weights, asker, row, part)
         self.assertEqual(reckoning.value(council, made, total), fraction)
 
+    def test_the_least_steps(self):
+        """Values as near to one another, and to 0, as these numbers let them be."""
+        council, total, even = (0, 1, (0, 1)), (0, 0, 1), ((), (), (1, 1))
+        self.assertEqual(between.way_of(council, even, 2, (1, 2), total), "up")
+        self.assertEqual(between.way_of(council, even, 2, (2, 1), total), "down")
+        self.assertIsNone(between.crossing(council, even, 2, (2, 1), total, (0, 1)))
+        self.assertIsNone(between.crossing(council, even, 2, (1, 2), total, (1, 1)))
+        self.assertIsNone(between.step_at(council, even, ((), (), (2, 1)), total, (0, 1)))
+        self.assertIsNone(between.step_at(council, even, ((), (), (1, 2)), total, (1, 1)))
+
     def test_the_value_always_goes_one_way(self):
         for council, weights, asker, row, total in list(cases())[::3]:
             values = [reckoning.value(council, mixed(weights, asker, row, Fraction(k, 6)), total) for k in range(7)]

@@ -139,6 +139,13 @@ class Voices(unittest.TestCase):
         self.assertIs(all(more), is_high)
         self.assertIs(all(less), is_low)
 
+    def test_numbers_that_are_near(self):
+        council, told = (0, 1, (0, 1)), ((), (), ((1, 2), (1, 2)))
+        self.assertEqual(bounds.highest_corner(council, told), ((), (), (1, 2)))
+        self.assertEqual(bounds.lowest_corner(council, told), ((), (), (2, 1)))
+        self.assertEqual(bounds.highest_voice(council, told)[2], (2, 3))
+        self.assertEqual(bounds.lowest_voice(council, told)[2], (1, 3))
+
     def test_may_hold_within(self):
         for council, told in with_bounds()[::2]:
             for member in range(len(council)):
@@ -232,6 +239,24 @@ class Great(unittest.TestCase):
             self.assertEqual(bounds.nth_corner(council, told, 0), tuple(tuple(n for n, _ in row) for row in told))
             self.assertIs(bounds.may_hold_within(council, told, 8, voices.voice_by(council, corner)[8]), True)
 
+    def test_fit(self):
+        for council in (BIG, WIDE, LONG):
+            told = bounds_for(council, 4, 50)
+            wider = tuple(tuple((least, greatest * 10 ** 20) for least, greatest in row) for row in told)
+            weights = weights_in(told, 5)
+            much = tuple(tuple(n * 10 ** 28 for n in row) for row in weights)
+            for rows in (weights, much):
+                self.assertIs(bounds.fit_bounds(council, told, rows), True)
+                self.assertIs(bounds.is_corner(council, told, rows), False)
+            off = samples.rows_for(council, 3, 1, 10 ** 30)
+            self.assertIs(bounds.fit_bounds(council, told, off), reckoning.fits(told, off))
+            self.assertIs(bounds.narrower(council, told, wider), True)
+            self.assertIs(bounds.narrower(council, wider, told), False)
+            self.assertIs(bounds.is_bounds(council, wider), True)
+            low, high = bounds.lowest_voice(council, told), bounds.highest_voice(council, told)
+            for part, least, greatest in zip(reckoning.voice(council, weights), low, high):
+                self.assertTrue(Fraction(*least) <= part <= Fraction(*greatest))
+
     def test_sums(self):
         """As many CORNERS as are let, on a COUNCIL at the bounds."""
         told = bounds_for(WIDE, 6, 8)
@@ -242,6 +267,11 @@ class Great(unittest.TestCase):
         self.assertEqual(bounds.least_within(WIDE, told, total), pair(min(values)))
         self.assertEqual(bounds.corner_of_greatest(WIDE, told, total), rows[values.index(max(values))][1])
         middle = (min(values) + 2 * max(values)) / 3
+        self.assertEqual(bounds.corner_of_least(WIDE, told, total), rows[values.index(min(values))][1])
+        self.assertEqual(bounds.greatest_within(WIDE, told, total), pair(max(values)))
+        against = bounds.against_within(WIDE, told, total)
+        self.assertEqual(against, rows[values.index(min(values))][1] if min(values) < 0 else None)
+        self.assertIs(bounds.is_against_within(WIDE, told, total, rows[0][1]), values[0] < 0)
         made = bounds.weights_within(WIDE, told, total, pair(middle))
         self.assertIs(bounds.is_weights_within(WIDE, told, total, pair(middle), made), True)
         self.assertEqual(reckoning.value(WIDE, made, total), middle)

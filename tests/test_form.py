@@ -85,9 +85,8 @@ class Form(unittest.TestCase):
                         self.assertIn(alias.name, used, name)
 
     def test_importing_brings_no_clock_and_no_random_source(self):
-        told = ("import sys; before = set(sys.modules); "
-                "import whomheeds.councils, whomheeds.voices, whomheeds.follows; "
-                "print(sorted(set(sys.modules) - before))")
+        files = ", ".join(f"whomheeds.{path.stem}" for path in FILES if path.stem != "__init__")
+        told = f"import sys; before = set(sys.modules); import {files}; print(sorted(set(sys.modules) - before))"
         run = subprocess.run([sys.executable, "-c", told], cwd=FOLDER.parent, capture_output=True, text=True, check=True)
         brought = [name for name in ast.literal_eval(run.stdout) if not name.startswith("whomheeds")]
         self.assertTrue(set(brought) <= {"math"}, brought)

@@ -178,6 +178,9 @@ class Great(unittest.TestCase):
             for member in range(len(council)):
                 led = tuple(k for k in range(len(council)) if member in table[k])
                 self.assertEqual(gates.led_by(council, member), led)
+                self.assertEqual(gates.next_gate(council, member), (table[member] + (None,))[1])
+                told = [gates.is_gate(council, k, member) for k in range(len(council))]
+                self.assertEqual(told, [member in row for row in table])
         self.assertEqual(gates.gates(BIG, 9), (9, 0))
         self.assertEqual(gates.led_by(BIG, 1), (1, 11, 12, 13, 14, 15))
         self.assertEqual(gates.common_gates(BIG, (6, 7, 8, 9, 10)), (0,))

@@ -258,6 +258,29 @@ class Great(unittest.TestCase):
                 triple for triple in told if all(triple[1] in lot for lot in reckoning.lots_of(council, heeds, triple[0])
                                                  if triple[2] in lot))))
 
+    def test_heeds(self):
+        for council in (BIG, WIDE, LONG):
+            told = triples_of(council)
+            for heeds in ((), tuple(told[::7]), tuple(told[1::4]), tuple(told)):
+                self.assertIs(lots.is_heeds(council, heeds), True)
+                weights = samples.rows_for(council, 3, 10 ** 30 - 900, 900)
+                kept = tuple(tuple(max(row, default=0) for _ in row) for row in weights)
+                self.assertIs(lots.keeps_heeds(council, heeds, weights), reckoning.keeps_heeds(council, heeds, weights))
+                self.assertIs(lots.keeps_heeds(council, heeds, kept), True)
+                every = {triple: lots.all_heeds(council, tuple(part for part in heeds if part != triple))
+                         for triple in heeds[::9]}
+                needless = lots.needless_heeds(council, heeds)
+                for triple, drawn in every.items():
+                    self.assertIs(triple in needless, triple in drawn)
+                for asker in reckoning.askers(council):
+                    self.assertEqual(lots.lots_of(council, heeds, asker), reckoning.lots_of(council, heeds, asker))
+                total = samples.total_for(council, 4)
+                value = reckoning.value(council, kept, total)
+                self.assertIs(lots.is_heeding(council, heeds, total, pair(value), kept), True)
+                self.assertIs(lots.is_heeding_against(council, heeds, total, value.numerator // value.denominator, kept), False)
+            made = lots.high_lots(council, ())
+            self.assertEqual(lots.value_by_lots(council, made, total), pair(reckoning.sum_by_lots(council, made, total)))
+
     def test_sums(self):
         """A COUNCIL at the bounds, as many LOTS as are let: each asker heeds in one order, some no two unlike."""
         council = WIDE

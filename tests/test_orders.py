@@ -106,6 +106,24 @@ class Voices(unittest.TestCase):
                 right = low < part < high or low == part == high
             self.assertIs(fits, right, (council, told, asker, made, part))
 
+    def test_one_that_has_to_hold_what_others_hold(self):
+        """1 asks 0 and 4, and holds what 4 holds: so 0 must, too."""
+        council = ((2, 3), (0, 4), 0, 9, 4)
+        for held in ((1, 1), (4, 1), (9, 1), (7, 3)):
+            voice = (held, (4, 1), (0, 1), (9, 1), (4, 1))
+            self.assertEqual(orders.may_hold(council, voice, 0), ((4, 1), (4, 1)))
+            # 9 is none that 0 may hold, whatever 1 holds.
+            self.assertEqual(orders.mended_by(council, voice), (0,) if held == (9, 1) else (0, 1))
+        low, high = ((1, 1), (3, 1), (0, 1), (9, 1), (4, 1)), ((5, 1), (5, 1), (0, 1), (9, 1), (4, 1))
+        self.assertEqual(orders.may_hold(council, low, 0), ((0, 1), (3, 1)))
+        self.assertEqual(orders.may_hold(council, high, 0), ((5, 1), (9, 1)))
+        # 0 must hold more than 1 and less than 2.
+        council = ((3, 4), (0, 3), (0, 4), 0, 9)
+        self.assertIsNone(orders.may_hold(council, ((5, 1), (6, 1), (5, 1), (0, 1), (9, 1)), 0))
+        self.assertEqual(orders.may_hold(council, ((1, 1), (3, 1), (4, 1), (0, 1), (9, 1)), 0), ((3, 1), (4, 1)))
+        self.assertEqual(orders.may_hold(council, ((1, 1), (2, 1), (4, 1), (0, 1), (9, 1)), 0), ((2, 1), (4, 1)))
+        self.assertIsNone(orders.may_hold(council, ((1, 1), (4, 1), (4, 1), (0, 1), (9, 1)), 0))
+
     def test_all_askers_are_mended_where_there_is_no_misfit(self):
         for council, told, voice in with_voices():
             if reckoning.misfits(council, told) == ():

@@ -148,6 +148,15 @@ class Great(unittest.TestCase):
                         self.assertTrue(reckoning.is_weights(council, made))
                         self.assertLessEqual(reckoning.voice(council, made)[member], number)
 
+    def test_is_low(self):
+        for council in GREAT:
+            weights = samples.rows_for(council, 3, 10 ** 30 - 900, 900)
+            held = reckoning.voice(council, weights)
+            for member in (0, 7, len(council) - 1):
+                floor = held[member].numerator // held[member].denominator
+                for number in (floor - 1, floor, floor + 1):
+                    self.assertIs(ranges.is_low(council, member, number, weights), held[member] <= number)
+
     def test_weights_however_great(self):
         council = (0, 6, (0, 3), (1, 2))
         weights = ((), (), (10 ** 900, 1), (1, 10 ** 900))

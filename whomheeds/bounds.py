@@ -73,9 +73,9 @@ def nth_corner(council, bounds, number):
     for pairs in bounds[::-1]:
         row = []
         for least, greatest in pairs[::-1]:
-            unlike = least < greatest
-            row.append(greatest if unlike and ahead % 2 == 1 else least)
-            ahead = ahead // 2 if unlike else ahead
+            row.append(greatest if ahead % 2 == 1 else least)
+            if least < greatest:
+                ahead = ahead // 2
         corner.append(tuple(row[::-1]))
     return tuple(corner[::-1])
 

@@ -176,7 +176,8 @@ def place_of(council, following):
     place = 0
     for asker in branching(council):
         at = council[asker].index(following[asker])
-        place += sum(arc_counts(council, asker)[:at])
+        if at > 0:
+            place += sum(arc_counts(council, asker)[:at])
         council = put_at(council, asker, (following[asker],))
     return place
 

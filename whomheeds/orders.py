@@ -88,12 +88,11 @@ def room_for(council, tops, asker):
     heard = [tops[goal] for goal in council[asker]]
     rooms = [(min(heard), max(heard))] + [room_by(council, tops, other, asker) for other in askers_in(council)
                                           if asker in council[other]]
-    lows = [low for low, _ in rooms if low is not None]
-    highs = [high for _, high in rooms if high is not None]
-    low, high = max(lows), min(highs)
-    # Where there is room for just one number, it is tried; else one of those between is, times 2 to be whole.
+    low = max([least for least, _ in rooms if least is not None])
+    high = min([greatest for _, greatest in rooms if greatest is not None])
+    # The middle is tried, the only number there is room for if both are one; all times 2, so that it is whole.
     tried = put_at(tuple([2 * top for top in tops]), asker, low + high)
-    return (low, high) if low <= high and misfits_of(council, tried) == () else None
+    return (low, high) if misfits_of(council, tried) == () else None
 
 
 def room_by(council, tops, other, asker):

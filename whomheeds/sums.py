@@ -85,8 +85,7 @@ def surely_below(council):
     refuse(council)
     rows = held_rows(council)
     members = range(len(council))
-    return [(member, other) for member in members for other in members
-            if member != other and is_below(rows, member, other)]
+    return [(member, other) for member in members for other in members if is_below(rows, member, other)]
 
 
 def is_below(rows, member, other):

@@ -154,9 +154,10 @@ def idle_pairs(council, order, total):
     """The set of the pairs without each of which the SUM holds in order, too; () if it does not hold."""
     council, order, total = frozen((council, order, total))
     refuse_in_order(council, order)
-    rows = all_parts(council, total)
-    if sum(total) != 0 or not is_never_below(council, order, rows):
+    if sum(total) != 0:
         return ()
+    rows = all_parts(council, total)
+    # With fewer pairs less holds: if the SUM holds without one, it holds.
     return tuple([pair for pair in order
                   if is_never_below(council, tuple([told for told in order if told != pair]), rows)])
 
