@@ -89,7 +89,6 @@ def narrowed_by(council, choices):
 def how_many_ending(council, member, firm):
     """By how many FOLLOWINGS member ends at firm."""
     council = frozen(council)
-    refuse(council, (member, firm), (), (firm,))
     return weight_to(council, even_weights(council), member, firm)
 
 

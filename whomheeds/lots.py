@@ -201,9 +201,7 @@ def heeding_weights(council, heeds, total, fraction):
     even = even_weights(council)
     if value_of(council, even, total) == fraction:
         return even
-    ends = [parts_by_lots(council, lots, total) for lots in (low, high)]
-    if not is_less(ends[0], fraction) or not is_less(fraction, ends[1]):
-        return None
+    # If the fraction is not between both ends, no step on the way from one to the other comes over it.
     below = heeding_below(council, low, total, fraction)
     turned = tuple([-number for number in total])
     above = heeding_below(council, high, turned, (-fraction[0], fraction[1]))
