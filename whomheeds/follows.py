@@ -111,7 +111,7 @@ def rows_and_ends(council):
 
 
 def led_on(ends, asker, goal):
-    """To whom each MEMBER comes, askers that are not asked yet standing still, when this one follows goal, too."""
+    """To whom each MEMBER comes when asker follows goal, too; who follows nobody yet comes to itself."""
     return tuple([ends[goal] if end == asker else end for end in ends])
 
 

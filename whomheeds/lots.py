@@ -100,7 +100,8 @@ def sound_lots(council, heeds):
     """As all_lots, nothing refused."""
     found = [()]
     for member in range(len(council)):
-        found = [lots + (lot,) for lots in found for lot in lots_at(council, heeds, member)]
+        options = lots_at(council, heeds, member)
+        found = [lots + (lot,) for lots in found for lot in options]
     return [lots for lots in found if lost_ones(asking(council, lots)) == ()]
 
 

@@ -1,9 +1,9 @@
 """WEIGHTS, and the VOICES, shares and sums that come by them (section 4)."""
 
-from math import gcd, lcm
+from math import gcd
 
 from whomheeds.basics import added_up, are_numbers, are_tuples, asks, askers_in, firm_in, frozen, is_firm, lowest
-from whomheeds.basics import put_at, refuse
+from whomheeds.basics import on_one_bottom, put_at, refuse
 from whomheeds.errors import Unfit
 
 
@@ -45,11 +45,11 @@ def weights_on(council, lots, number):
 
 
 def loud_enough(council, over):
-    """A number so great that by weights_on with it, and lots to whose mean a value comes, it comes close enough.
+    """A number by which weights_on some lots bring a value below a limit that it is below by plain means of them.
 
-    Close enough to be below what it must be below, if by plain means over lots it is so by a whole number, added
-    up over their FOLLOWINGS, and if it goes beyond by over at the most by any FOLLOWING. There are not more
-    FOLLOWINGS than the product below, and one that leaves the lots has one loud arc less at least.
+    Each FOLLOWING adds, times its weight, by how much its value goes beyond the limit, in whole numbers. Those
+    within the lots, all of one weight, add up to below 0; each other one goes beyond by over at the most, and has
+    one loud arc less at least. There are not more FOLLOWINGS than the product here.
     """
     many = 1
     for asker in askers_in(council):
@@ -98,10 +98,7 @@ def whole_weights(council, parts):
 
 def whole_row(row):
     """The least numbers that are to one another as these FRACTIONS."""
-    common = 1
-    for _, bottom in row:
-        common = lcm(common, bottom)
-    return plain_row(tuple([top * (common // bottom) for top, bottom in row]))
+    return plain_row(on_one_bottom(row)[0])
 
 
 def mean_of(council, weights, voice, asker):
