@@ -1,5 +1,6 @@
 """The functions of the interface, with calls of each: what they return or raise is held against other ways to call."""
 
+from tests import calls_more
 from whomheeds import between, bounds, councils, errors, follows, gates, lots, orders, ranges, sums, unknown, voices
 
 SIGNATURES = {
@@ -70,11 +71,12 @@ SIGNATURES = {
         is_heeding_against(council,heeds,total,number,thing) heeding_weights(council,heeds,total,fraction)
         is_heeding(council,heeds,total,fraction,thing) high_lots(council,heeds) low_lots(council,heeds)
         is_high_lots(council,heeds,thing) is_low_lots(council,heeds,thing) heeded_range(council,heeds,member)""",
+    **calls_more.SIGNATURES,
 }
 
 # The functions that return a list.
 LISTING = (councils.roads, follows.all_followings, sums.surely_below, between.steps_between, orders.all_orders,
-           unknown.upward_sets, lots.lots_of, lots.all_lots)
+           unknown.upward_sets, lots.lots_of, lots.all_lots) + calls_more.LISTING
 
 
 def parameters():
@@ -267,7 +269,9 @@ CALLS = {
 def all_calls():
     """Pairs (function, the arguments of one call)."""
     found = [(councils.is_council, (C,)), (councils.is_council, ((5, (0, 0)),))]
-    found += [(function, (C,) + more) for function, rows in CALLS.items() for more in rows]
+    found += [(function, (C,) + more) for rows in (CALLS, calls_more.CALLS) for function, some in rows.items()
+              for more in some]
+    found += calls_more.WHOLE
     # Some that need a COUNCIL of another kind.
     lost, dead = (5, (2,), (1,)), (5, (0, 2), (1,))
     found += [(councils.needed_arcs, (lost,)), (councils.lost, (lost,)), (councils.together, (lost,))]

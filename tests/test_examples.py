@@ -1,8 +1,9 @@
-"""Every example of sections 3 to 13 of the document, word for word."""
+"""Every example of sections 3 to 21 of the document, word for word."""
 
 import unittest
 
-from whomheeds import between, bounds, councils, errors, follows, gates, lots, orders, ranges, sums, unknown, voices
+from tests import calls
+from whomheeds import board, errors
 
 COUNCILS = """
     >>> council, ring = (5, (0, 2), (1, 3), 9), (4, (2,), (1,), (0, 1))
@@ -221,12 +222,151 @@ LOTS = """
     raises Unfit()
 """
 
+PULLS = """
+    >>> ring = (0, 6, (0, 3), (1, 2), (3,), (0, 1))
+    >>> pull(ring, 2, 3), pulls(ring, 4), [fixing(ring, 3, number) for number in (0, 5, 6)], whose_matter(ring, 4)
+    ('up', ((0, 'down'), (1, 'up'), (2, 'down'), (3, 'none'), (5, 'either')), ['down', 'either', 'up'], (2, 3))
+    >>> evenly, more = ((), (), (1, 1), (1, 1), (1,), (1, 1)), ((), (), (2, 1), (1, 1), (1,), (1, 1))
+    >>> [is_pull_paper(ring, 5, 2, word, evenly) for word in ("up", "down")], pull_paper(ring, 2, 3, "up"), is_weights_apart(ring, 2, 4, (evenly, more))
+    ([True, False], None, True)
+    >>> ends_table(ring[:4]), can_end(ring, (0, 1, 1, 0, 0, 0)), following_to(ring, (0, 1, 0, 1, 1, 0))
+    (((0, 1, 0, 0), (0, 1, 0, 1), (0, 1, 1, 1)), False, (0, 1, 0, 1, 3, 0))
+    >>> less, twice = (0, 6, (0,), (1, 2)), ring + ((3, 4),)
+    >>> tells_no_more(less, ring[:4]), is_parting_wish(ring[:4], less, ((2, 1, -1),)), parting_wish(less, ring[:4]), needless_arcs(twice), lean_council(twice)[6]
+    (True, True, None, ((6, 3), (6, 4)), (4,))
+    >>> pull(ring, 1, 0)
+    raises NoAsker(number=1)
+"""
+
+HOUSES = """
+    >>> house, bare = (((1, 2), 0, 7), (1,), (0,)), (((1,), 0, 7), (1,), (0,))
+    >>> letter(house), letter(bare)
+    ((1, 1, ((('door', 0),), (('own', 0),))), (1, 1, ((('door', 0),),)))
+    >>> outside = (((1, 2), 0, 3), (1,), (0,))
+    >>> put_together(house, outside), places_there(house, outside), wish_there(house, outside, ((("seen", 0), ("own", 0), 1), (("out", 0), ("out", 2), -1)))
+    (((1, 2), 7, (0, 3), 3), ((0, 2, 1), (2, 0, 3)), ((0, 1, 1), (2, 3, -1)))
+    >>> lets_no_more_outside(bare, house), lets_no_more_outside(house, bare), alike_outside(house, house), parting_outside(bare, house)
+    (True, False, True, None)
+    >>> is_parting_outside(house, bare, (((0, 0), (0,), (1,)), ((("seen", 0), ("own", 0), -1),))), is_parting_outside(house, bare, parting_outside(house, bare))
+    (True, True)
+    >>> is_safe(house), is_safe(bare), losing_outside(house), is_losing(bare, (((1,), 0), (1,), (0,)))
+    (True, False, None, True)
+    >>> two = (((3, 4), (0, 4), (0,), 0, 1), (3,), (0, 1, 2))
+    >>> seen_alike(two, 0, 2), seen_above(two, 1, 0), len(letter(two)[2]), needless_inside((((1, 2), (0, 2), 0, 4), (2,), (0,)))
+    (True, False, 3, [(0, 1), (0, 2), (1, 0), (1, 2)])
+    >>> joined_houses(house, bare, ((0, 0, 0),)), joined_letters(letter(bare), letter(bare), ((0, 0, 0),))
+    ((((1, 2), 7, (3,), 0, 7), (3,), (0, 2)), (1, 2, ((('door', 0), ('door', 0)),)))
+    >>> joined_houses(bare, bare, ((0, 0, 0), (1, 0, 0)))
+    raises Unfit()
+"""
+
+BUYERS = """
+    >>> town = ((2, 4), (3, 4), (1, 5), (5, 6), 9, 3, 0)
+    >>> are_sure(town, (0, 1), 5, (0, 3)), are_sure(town, (0, 1), 5, (3,)), low_road(town, (1,), 5, (2,))[:2], low_road(town, (0,), 5, (2,))
+    (True, False, (1, 3), None)
+    >>> fewest_bought(town, (0, 1), 5), least_bought(town, (0, 1), 5), all_least_bought(town, (0, 1), 5), needed_bought(town, (0, 3), 5)
+    (2, (0, 1), [(0, 1), (0, 3), (1, 2), (2, 3)], (3,))
+    >>> is_roads_apart(town, (0, 1), 5, ((0, 2, 5), (1, 3, 6))), is_roads_apart(town, (0, 1), 5, ((0, 2, 5), (1, 3, 5))), is_roads_apart(town, (0, 1), 5, ((0, 2, 1, 3, 5),))
+    (True, True, False)
+    >>> prices = (5, 1, 2, 4, None, None, None)
+    >>> cheapest_bought(town, (0, 1), 5, prices), cheapest_bought(town, (0, 1), 5, (None, 1, None) + prices[3:]), fewest_bought(town, (0, 6), 5), fewest_bought(town, (0, 4), 0)
+    (3, None, None, 0)
+    >>> most_ends(town), is_bar(town, ((4,), (2, 3))), is_bar(town, ((4, 5), (3,))), fewest_ends(town), least_ends(town)
+    (3, True, True, 1, (5,))
+    >>> are_sure(town, (0,), 5, (4,))
+    raises NoAsker(number=4)
+"""
+
+ROUNDS = """
+    >>> council, begun, even = ((1, 2), (0, 3), 0, 12), (6, 2, 0, 12), ((1, 1), (1, 1), (), ())
+    >>> after_talk(council, begun, (even,)), after_talk(council, begun, (even, ((1, 2), (1, 1), (), ())))[:2]
+    (((1, 1), (9, 1), (0, 1), (12, 1)), ((3, 1), (13, 2)))
+    >>> line = ((1,), (2, 3), 0, 12)
+    >>> unfolded(line, (5, 7, 0, 12), 1), round_weights(line, ((1, 1), (2, 1), (0, 1), (12, 1)), ((3, 1), (1, 1), (0, 1), (12, 1)))
+    ((5, 7, 0, 12, (1,), (2, 3), 0, 12), None)
+    >>> least_after(council, begun, 1, 0), greatest_after(council, begun, 2, 0), total_after(council, begun, 1, (1, 1, 0, 0)), talk_against(council, begun, 1, (1, 1, 0, 0), 6)
+    (0, 12, (6, 14), None)
+    >>> hangs_on(council, 0, 3), hangs_on(council, 0, 10 ** 30), hangs_on(line, 0, 1), rounds_till_free(line, 0), rounds_till_free(council, 0)
+    ((1,), (0,), (1,), 2, None)
+    >>> [farthest(council, begun, even, rounds) for rounds in (0, 1, 2)]
+    [(6, 1), (3, 1), (3, 2)]
+"""
+
+JUDGE = """
+    >>> council, more = (0, 10, (0, 1), (1, 2)), (0, 0, -1, 1)
+    >>> stands(council, ("least", more, 0)), stands(council, ("above", more, 0)), paper_against(council, ("like", 2, 3)) is None, stands(council, ("wish", ((3, 1, 1), (2, 1, -1)), 0))
+    (True, True, False, True)
+    >>> weights = ((), (), (10, 1), (1, 1))
+    >>> is_paper_against(council, ("least", (0, 0, 1, 0), 1), weights), is_paper_against(council, ("least", (0, 0, 1, 0), 0), weights), best_claim(council, ("least", (0, 0, 1, 1), -7)), is_claim(council, ("like", 2, 4))
+    (True, False, ('least', (0, 0, 1, 1), 0), False)
+    >>> stands(council, ("voice", ((0, 1), (10, 1), (5, 1), (10, 1)))), stands(council, ("voice", ((0, 1), (10, 1), (5, 1), (15, 2)))), stands(council, ("pull", 3, 1, 3)), stands(council, ("pull", 3, 2, 3))
+    (True, False, True, False)
+    >>> stands(council, ("heeds", ((2, 1, 0),), (0, 0, 1, 0), 5)), stands(council, ("order", ((0, 1),), (-1, 0, 1, 0))), stands(council, ("bought", (3,), 8, (2,))), stands(council, ("bought", (3,), 8, ()))
+    (True, True, True, False)
+    >>> claims = (("like", 2, 3), ("least", more, 0), ("least", (0, 0, 1, 0), 1))
+    >>> first_fallen(council, claims)[0], first_fallen(council, claims[1:2]), fewest_arcs_out(council, claims[0]), fewest_arcs_out(council, claims[2]), broken_by((0, 10, (1,), (1, 2)), council, claims)
+    (0, None, ((2, 0),), ((2, 0),), (0, 2))
+    >>> stands(((1,), (0,), 5), ("like", 0, 1))
+    raises Lost(number=0)
+    >>> paper_against(council, ("least", (0, 0, 1), 0))
+    raises Unfit()
+"""
+
+TEXTS = """
+    >>> council = (5, (0, 2), (0, 1, 3), -2)
+    >>> council_text(council)
+    'council\\nholds 5\\nasks 0 2\\nasks 0 1 3\\nholds -2\\n'
+    >>> read_council("council\\nholds 5\\nasks 0"), read_council("council\\nasks 1\\nasks 0\\n"), fraction_text((7, 2)), fraction_text((-3, 1)), read_fraction("-3"), read_fraction("0")
+    ((5, (0,)), ((1,), (0,)), '7/2', '-3', (-3, 1), (0, 1))
+    >>> weights_text(((), (1, 2), (3, 1, 1), ())), read_weights(council, "-\\n1 2\\n3 1 1\\n-"), wish_text(((1, 0, 2), (2, 3, -1))), read_wish(council, "1 0 2\\n1 0 2\\n"), read_wish(council, "")
+    ('-\\n1 2\\n3 1 1\\n-\\n', ((), (1, 2), (3, 1, 1), ()), '1 0 2\\n2 3 -1\\n', ((1, 0, 2), (1, 0, 2)), ())
+    >>> voice_text(((5, 1), (8, 3), (-1, 2))), read_voice(council, "5 0 1/2 -2"), read_sum(council, "0 1 -1 0"), following_text((0, 0, 1, 3)), read_following(council, "0 0 1 3")
+    ('5 8/3 -1/2', ((5, 1), (0, 1), (1, 2), (-2, 1)), (0, 1, -1, 0), '0 0 1 3', (0, 0, 1, 3))
+    >>> read_council("council\\nholds 5\\nasks 0 0")
+    raises BadLine(number=2)
+    >>> read_council("council\\nholds 05")
+    raises BadLine(number=1)
+    >>> read_weights(council, "-\\n1 2\\n3 1\\n-")
+    raises BadLine(number=2)
+    >>> read_fraction("4/2")
+    raises BadText()
+    >>> read_following(council, "0 2 1 3")
+    raises BadText()
+"""
+
+BOARD = """
+    >>> board = Board((0, 6, (0, 3), (1, 2)))
+    >>> board.hope("gap", (0, 0, -1, 1)), board.hope("top", (0, 1, 0, -2)), board.held(), board.span("gap"), board.span("top"), board.breaker("gap"), board.mended_by(3, 1), board.spoilt_by(2, 1)
+    (None, None, ('gap',), (0, 6), (-6, 6), None, ('top',), ())
+    >>> board.ask(2, 1), board.spoilt_by(3, 0), board.idle_arcs(), board.turned_by(2, 9), board.settle(2, 9), board.changed(), board.held(), board.undo(), board.members(), len(board)
+    (None, ('gap',), ((2, 1), (2, 3)), ('gap',), None, ('gap',), (), None, (0, 6, (0, 1, 3), (1, 2)), 3)
+    >>> board.enter(4), board.hopes(), board.open_up(4, (2,)), board.members(), board.is_held("gap"), board == Board((0, 6, (0, 1, 3), (1, 2), (2,)))
+    (None, (('gap', (0, 0, -1, 1, 0)), ('top', (0, 1, 0, -2, 0))), None, (0, 6, (0, 1, 3), (1, 2), (2,)), True, False)
+    >>> board.drop("up")
+    raises NoWord(word='up')
+    >>> Board((5, (0, 2), (1,))).leave(1, 0)
+    raises Lost(number=1)
+"""
+
+DESK = """
+    >>> council = (0, 6, (0, 3), (1, 2))
+    >>> replies(council, "hope gap 0 0 -1 1\\nhope top 0 1 0 -2\\nheld\\nspan top\\nagainst top\\nmended 3 1\\nask 2 1\\nspoilt 3 0\\nturns 2 9\\nsettle 2 9\\nchanged\\nheld\\nundo\\nmembers\\nvoice\\nidle\\ndeeds")
+    ['done', 'done', 'gap', '-6 6', 'below', 'top', 'done', 'gap', 'gap', 'done', 'gap', '-', 'done', 'holds 0 / holds 6 / asks 0 1 3 / asks 1 2', '0 6 18/5 24/5', '2>1 2>3', '3']
+    >>> replies(council, "ask 2 0\\nleave 0 1\\nask 2 9\\nleave 3 2\\nleave 3 1\\nsettle -1 4\\ndrop up\\nhope a 1\\nenter -7\\nopen 4 0 2\\nopen 4 4\\nmembers\\nundo\\nundo\\nundo\\nundo\\nhopes")
+    ['refused Unfit', 'refused NoAsker', 'refused NoMember', 'done', 'refused Unfit', 'refused NoMember', 'refused NoWord', 'refused Unfit', 'done', 'done', 'refused Unfit', 'holds 0 / holds 6 / asks 0 3 / asks 1 / asks 0 2', 'done', 'done', 'done', 'refused NothingDone', '-']
+    >>> is_request("held"), is_request("open 2 10 9"), is_request("hope Up 1"), is_request("ask 02 1"), replies(council, "")
+    (True, False, False, False, [])
+    >>> replies(council, "held\\nask 2")
+    raises BadLine(number=1)
+    >>> replies((3, (2,), (1,)), "hello")
+    raises Lost(number=1)
+"""
+
 
 def functions():
-    """All that the files hold, by name."""
-    found = {}
-    for module in (councils, voices, follows, ranges, gates, sums, between, orders, unknown, bounds, lots):
-        found.update({name: part for name, part in vars(module).items() if not name.startswith("_")})
+    """All that the interface lists, by name."""
+    found = {function.__name__: function for function in calls.parameters()}
+    found["Board"] = board.Board
     return found
 
 
@@ -285,6 +425,30 @@ class Examples(unittest.TestCase):
 
     def test_lots(self):
         self.run_examples(LOTS)
+
+    def test_pulls(self):
+        self.run_examples(PULLS)
+
+    def test_houses(self):
+        self.run_examples(HOUSES)
+
+    def test_buyers(self):
+        self.run_examples(BUYERS)
+
+    def test_rounds(self):
+        self.run_examples(ROUNDS)
+
+    def test_judge(self):
+        self.run_examples(JUDGE)
+
+    def test_texts(self):
+        self.run_examples(TEXTS)
+
+    def test_board(self):
+        self.run_examples(BOARD)
+
+    def test_desk(self):
+        self.run_examples(DESK)
 
 
 if __name__ == "__main__":

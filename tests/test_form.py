@@ -15,11 +15,18 @@ FILES = sorted(FOLDER.glob("*.py"))
 LIBRARY = {"math": {"gcd", "lcm", "isqrt", "comb", "perm", "factorial"}}
 BUILTINS = set("""len range enumerate zip min max sum abs sorted reversed int str bool bytes list tuple dict set
     isinstance ord repr any all divmod LookupError ValueError""".split())
-METHODS = set("append extend insert index count get items keys values pop copy".split())
+METHODS = set("""append extend insert index count get items keys values pop copy update
+    split join partition removeprefix""".split())
+# What else stands in single files: the methods and attributes of Board, refusals that are caught, a power.
+BOARD = set("""council kept past go_on ask leave settle open_up enter hope drop undo twin members hopes total_of is_held held
+    breaker span spoilt_by mended_by turned_by changed idle_arcs""".split())
+OWN = {"board.py": BOARD, "desk.py": BOARD}
+SPECIAL = {("desk.py", ast.Try), ("texts.py", ast.Pow)}
 BARRED = set("""register mro elements open input law version_info with_traceback add_note attrgetter breakpoint builtins
     compile copyright credits delattr dir eval exec exit gc getattr globals hasattr help id importlib license locals
     methodcaller os quit setattr super type vars sys _""".split())
 PLAIN = (ast.FunctionDef, ast.ClassDef, ast.ImportFrom)
+TABLES = {"pulls.py": ["WORDS"], "desk.py": ["SHAPES"]}
 
 
 def trees():
@@ -41,7 +48,19 @@ def bound_names(tree):
             found.add(node.id)
         elif isinstance(node, ast.alias):
             found.add(node.name)
+        elif isinstance(node, ast.MatchAs) and node.name is not None:
+            found.add(node.name)
     return found
+
+
+def is_literal(node):
+    """Whether it is a dict or tuple of strings, and of tuples of these, none of them a list or dict."""
+    if isinstance(node, ast.Dict):
+        parts = node.keys + node.values
+        return not any(isinstance(part, ast.Dict) for part in parts) and all(map(is_literal, parts))
+    if isinstance(node, ast.Tuple):
+        return all(map(is_literal, node.elts))
+    return isinstance(node, ast.Constant) and isinstance(node.value, str)
 
 
 class Form(unittest.TestCase):
@@ -104,8 +123,11 @@ class Form(unittest.TestCase):
     def test_module_level(self):
         for name, tree in trees():
             self.assertIsNotNone(ast.get_docstring(tree), name)
+            tables = [node for node in tree.body if isinstance(node, ast.Assign)]
+            self.assertEqual([target.id for node in tables for target in node.targets], TABLES.get(name, []))
+            self.assertTrue(all(is_literal(node.value) for node in tables), name)
             for node in tree.body[1:]:
-                self.assertIsInstance(node, PLAIN, name)
+                self.assertIsInstance(node, PLAIN + (ast.Assign,), name)
             names = [node.name for node in tree.body if isinstance(node, (ast.FunctionDef, ast.ClassDef))]
             self.assertEqual(len(names), len(set(names)), name)
 
@@ -127,7 +149,8 @@ class Form(unittest.TestCase):
         barred = (ast.Global, ast.Nonlocal, ast.AsyncFunctionDef, ast.Yield, ast.YieldFrom, ast.Div, ast.Set,
                   ast.SetComp, ast.Try, ast.With, ast.GeneratorExp, ast.NamedExpr, ast.JoinedStr, ast.AnnAssign,
                   ast.Starred, ast.Pow, ast.MatMult)
-        self.assertEqual([(name, node.lineno) for name, node in nodes(barred)], [])
+        found = [(name, node) for name, node in nodes(barred) if (name, node.__class__) not in SPECIAL]
+        self.assertEqual([(name, getattr(node, "lineno", None)) for name, node in found], [])
         for name, node in nodes((ast.FunctionDef, ast.ClassDef)):
             self.assertEqual(node.decorator_list, [])
         for name, node in nodes(ast.Constant):
@@ -138,9 +161,24 @@ class Form(unittest.TestCase):
     def test_methods(self):
         for name, node in nodes(ast.Attribute):
             if isinstance(node.ctx, ast.Load):
-                self.assertIn(node.attr, METHODS, name)
+                self.assertIn(node.attr, METHODS | OWN.get(name, set()), name)
             else:
-                self.assertEqual((name, node.value.id), ("errors.py", "self"))
+                self.assertIn((name, node.value.id), (("errors.py", "self"), ("board.py", "self"), ("board.py", "board")))
+
+    def test_refusals_that_are_caught(self):
+        """Own errors alone, each by its name, not kept."""
+        own = {node.name for name, node in nodes(ast.ClassDef) if name == "errors.py"}
+        for name, node in nodes(ast.ExceptHandler):
+            self.assertEqual(name, "desk.py")
+            self.assertIn(node.type.id, own)
+            self.assertIsNone(node.name)
+
+    def test_classes(self):
+        found = [(name, node.name) for name, node in nodes(ast.ClassDef) if name != "errors.py"]
+        self.assertEqual(found, [("board.py", "Board")])
+        for name, node in nodes(ast.ClassDef):
+            double = {part.name for part in node.body if isinstance(part, ast.FunctionDef) and part.name.startswith("__")}
+            self.assertTrue(double <= {"__init__", "__eq__", "__len__"}, name)
 
 
 if __name__ == "__main__":

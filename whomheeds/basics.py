@@ -44,6 +44,14 @@ def is_set_of_numbers(thing):
     return are_numbers(thing) and ascend(thing)
 
 
+def subsets(row):
+    """The list of all sets of parts of the ascending tuple, those with fewer ahead, the lesser ones of as many."""
+    found = [()]
+    for part in row:
+        found = found + [some + (part,) for some in found]
+    return sorted(sorted(found), key=len)
+
+
 def is_fraction(thing):
     if not are_numbers(thing) or len(thing) != 2:
         return False
@@ -194,7 +202,7 @@ def is_less(one, other):
     return one[0] * other[1] < other[0] * one[1]
 
 
-def farthest(pairs, sign):
+def best_front(pairs, sign):
     """Of pairs, each with a fraction behind, the front of the first one with the greatest; for sign -1 the least."""
     best, (best_top, best_bottom) = pairs[0]
     for front, (top, bottom) in pairs[1:]:

@@ -1,6 +1,6 @@
 """WEIGHTS within BOUNDS, and what comes by those that fit (section 12)."""
 
-from whomheeds.basics import are_numbers, are_tuples, asks, farthest, frozen, refuse
+from whomheeds.basics import are_numbers, are_tuples, asks, best_front, frozen, is_less, refuse
 from whomheeds.between import weights_on_the_way
 from whomheeds.errors import NoNumber
 from whomheeds.voices import are_weights, sum_parts, value_of, voice_of
@@ -198,31 +198,41 @@ def value_there(council, corner, total):
 
 def corner_of_least(council, bounds, total):
     """The least CORNER that has the least value."""
-    return farthest(valued_corners(council, bounds, total), -1)
+    return best_front(valued_corners(council, bounds, total), -1)
 
 
 def corner_of_greatest(council, bounds, total):
     """The least CORNER that has the greatest value."""
-    return farthest(valued_corners(council, bounds, total), 1)
+    return best_front(valued_corners(council, bounds, total), 1)
 
 
 def against_within(council, bounds, total):
     """WEIGHTS that fit by which the SUM is below 0; None if there are none."""
+    return corner_below(council, bounds, total, 0)
+
+
+def corner_below(council, bounds, total, number):
+    """A CORNER by which the SUM is below number; None if there is none."""
     corner = corner_of_least(council, bounds, total)
-    return corner if value_there(council, corner, total)[0] < 0 else None
+    return corner if is_less(value_there(council, corner, total), (number, 1)) else None
 
 
 def is_against_within(council, bounds, total, thing):
     """Whether thing is such WEIGHTS."""
     council, total = frozen((council, total))
     refuse(council)
-    return do_fit(council, bounds, thing) and value_of(council, thing, total)[0] < 0
+    return is_below_within(council, bounds, total, 0, thing)
+
+
+def is_below_within(council, bounds, total, number, thing):
+    """Whether thing is WEIGHTS that fit by which the SUM is below number."""
+    return do_fit(council, bounds, thing) and is_less(value_of(council, thing, total), (number, 1))
 
 
 def weights_within(council, bounds, total, fraction):
     """WEIGHTS that fit by which the SUM is just this; None if there are none."""
     pairs = valued_corners(council, bounds, total)
-    low, high = farthest(pairs, -1), farthest(pairs, 1)
+    low, high = best_front(pairs, -1), best_front(pairs, 1)
     council, total, fraction = frozen((council, total, fraction))
     return weights_on_the_way(council, low, high, total, fraction)
 

@@ -87,12 +87,12 @@ def shortest_road(council, member, goal):
     """Of the ROADS from member to goal that have the fewest MEMBERS the least; None if there is none."""
     council = frozen(council)
     refuse_members(council, (member, goal))
-    return nearest_road(council, (member,), goal)
+    return nearest_road(council, (member,), (goal,))
 
 
-def nearest_road(council, starts, goal):
-    """Of the ROADS from one of starts to goal that have the fewest MEMBERS the least, or None."""
-    steps = steps_to(council, (goal,))
+def nearest_road(council, starts, goals):
+    """Of the ROADS from one of starts to one of goals that have the fewest MEMBERS the least, or None."""
+    steps = steps_to(council, goals)
     road = []
     ahead = [number for number in starts if number in steps]
     while ahead:
@@ -136,7 +136,7 @@ def shortest_ring(council, asker):
     council = frozen(council)
     refuse_members(council, (asker,))
     refuse_askers(council, (asker,))
-    back = nearest_road(council, council[asker], asker)
+    back = nearest_road(council, council[asker], (asker,))
     return None if back is None else (asker,) + back[:-1]
 
 

@@ -110,6 +110,11 @@ def rows_and_ends(council):
     return begun
 
 
+def all_ends(council):
+    """The set of the ENDS of all FOLLOWINGS."""
+    return tuple(sorted(set([ends for _, ends in rows_and_ends(council)])))
+
+
 def led_on(ends, asker, goal):
     """To whom each MEMBER comes when asker follows goal, too; who follows nobody yet comes to itself."""
     return tuple([ends[goal] if end == asker else end for end in ends])

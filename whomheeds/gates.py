@@ -2,6 +2,7 @@
 
 from whomheeds.basics import askers_in, asks, firm_in, frozen, is_firm, put_at, reach_of, refuse, shut_among
 from whomheeds.councils import is_road
+from whomheeds.flows import road_taken, side_by_side
 
 
 def gates(council, member):
@@ -131,59 +132,10 @@ def unlike_roads(council, one, other):
 
 
 def two_roads(council, one, other):
-    """As apart_roads, nothing refused: a flow from both to the firm ones, which takes each MEMBER but once."""
-    end = (len(council), 0)
-    left = ways_to(council, end)
-    for start in (one, other):
-        way = way_through(left, (start, 0), end)
-        if way is None:
-            return None
-        # What has been taken may be given back by a later way.
-        for here, there in zip(way, way[1:]):
-            del left[here][there]
-            left[there][here] = True
-    return (road_taken(council, left, one), road_taken(council, left, other))
-
-
-def ways_to(council, end):
-    """A dict of dicts: where one may go on from each place, to this end behind all firm ones.
-
-    Each MEMBER is two places: who comes to the first one passes it, and goes on from the second one.
-    """
-    left = {end: {}}
-    for member in range(len(council)):
-        left[(member, 0)] = {(member, 1): True}
-        left[(member, 1)] = {end: True} if is_firm(council, member) else {(goal, 0): True for goal in council[member]}
-    return left
-
-
-def way_through(left, start, end):
-    """A list of places from start to end; None if none leads there."""
-    came = {start: start}
-    ahead = [start]
-    while ahead:
-        here = ahead.pop()
-        for there in left[here]:
-            if there not in came:
-                came[there] = here
-                ahead.append(there)
-    if end not in came:
-        return None
-    way = [end]
-    while way[-1] != start:
-        way.append(came[way[-1]])
-    return way[::-1]
-
-
-def road_taken(council, left, start):
-    """The ROAD that the flow takes from here: where it went, the way back is open."""
-    road = [start]
-    ahead = [start]
-    while ahead:
-        here = ahead.pop()
-        ahead = [goal for goal in asks(council, here) if (here, 1) in left[(goal, 0)]]
-        road.extend(ahead)
-    return tuple(road)
+    """As apart_roads, nothing refused."""
+    asked = [asks(council, member) for member in range(len(council))]
+    left, led = side_by_side(asked, firm_in(council), (one, other))
+    return None if len(led) < 2 else (road_taken(asked, left, one), road_taken(asked, left, other))
 
 
 def is_apart_roads(council, one, other, thing):

@@ -1,7 +1,7 @@
 """HEEDS that are told: whom an asker heeds at least as much as another one (section 13)."""
 
-from whomheeds.basics import are_numbers, are_tuples, ascend, askers_in, asks, ends_reached, farthest, frozen, is_less
-from whomheeds.basics import is_set_of_numbers, lost_ones, lowest, on_one_bottom, refuse
+from whomheeds.basics import are_numbers, are_tuples, ascend, askers_in, asks, best_front, ends_reached, frozen
+from whomheeds.basics import is_less, is_set_of_numbers, lost_ones, lowest, on_one_bottom, refuse, subsets
 from whomheeds.between import weights_on_the_way
 from whomheeds.errors import Unfit
 from whomheeds.voices import are_weights, even_weights, loud_enough, sum_parts, value_of, voice_of, weights_on
@@ -81,11 +81,8 @@ def lots_of(council, heeds, asker):
 
 def lots_at(council, heeds, asker):
     """As lots_of, nothing refused; of a firm one () alone."""
-    found = [()]
-    for goal in asks(council, asker):
-        found = found + [lot + (goal,) for lot in found]
     own = [(one, other) for who, one, other in heeds if who == asker]
-    good = [lot for lot in found if all([one in lot or other not in lot for one, other in own])]
+    good = [lot for lot in subsets(asks(council, asker)) if all([one in lot or other not in lot for one, other in own])]
     return sorted([lot for lot in good if lot != ()]) or [()]
 
 
@@ -135,7 +132,7 @@ def end_lots(council, heeds, total):
     """A pair of sound LOTS: some by which the SUM has the least value, some by which it has the greatest."""
     refuse_in_heeds(council, heeds)
     pairs = [(lots, parts_by_lots(council, lots, total)) for lots in sound_lots(council, heeds)]
-    return (farthest(pairs, -1), farthest(pairs, 1))
+    return (best_front(pairs, -1), best_front(pairs, 1))
 
 
 def heeded(council, heeds, total):
@@ -257,7 +254,7 @@ def turned_up(lots, options, voice, sign):
     rows = []
     for own, others in zip(lots, options):
         pairs = [(lot, (sum([tops[goal] for goal in lot]), len(lot))) for lot in [own] + others if lot != ()]
-        rows.append(farthest(pairs, sign) if pairs else ())
+        rows.append(best_front(pairs, sign) if pairs else ())
     return tuple(rows)
 
 

@@ -1,8 +1,9 @@
 """SUMS and WISHES FOR ALL WEIGHTS: what is sure of them, and what is against it (section 8)."""
 
-from whomheeds.basics import ends_reached, frozen, refuse
-from whomheeds.follows import ends_by, is_plain_following, rows_and_ends
-from whomheeds.voices import are_weights, loud_enough, refuse_in_wish, sum_parts, weights_on
+from whomheeds.basics import are_numbers, are_tuples, ends_reached, firm_in, frozen, refuse
+from whomheeds.follows import all_ends, ends_by, is_plain_following, rows_and_ends
+from whomheeds.ranges import is_above
+from whomheeds.voices import are_weights, even_weights, loud_enough, refuse_in_wish, sum_parts, weights_on
 
 
 def value_at(council, following, total):
@@ -76,7 +77,7 @@ def beside(council, member, other):
 
 def held_rows(council):
     """The set of the rows of the numbers that the MEMBERS hold by the ENDS of all FOLLOWINGS."""
-    return sorted(set([tuple([council[end] for end in ends]) for _, ends in rows_and_ends(council)]))
+    return sorted(set([tuple([council[end] for end in ends]) for ends in all_ends(council)]))
 
 
 def surely_below(council):
@@ -122,12 +123,25 @@ def followed_loudly(council, following, number):
 
 def weights_against(council, total, number):
     """WEIGHTS by which the SUM is below number; None if there are none."""
-    council = frozen(council)
-    pairs = sums_by_all(council, total)
+    return loud_against(frozen(council), sums_by_all(council, total), number)
+
+
+def loud_against(council, pairs, number):
+    """WEIGHTS by which a value is below number, pairs telling it and its FOLLOWING for all; None if there are none."""
     value, row = min(pairs)
     if value >= number:
         return None
     return followed_loudly(council, row, loud_enough(council, max(pairs)[0] - number))
+
+
+def weights_not_above(council, total, number):
+    """WEIGHTS by which the SUM is not above number; None if it always is."""
+    council = frozen(council)
+    pairs = sums_by_all(council, total)
+    if is_above(min(pairs)[0], max(pairs)[0], number):
+        return None
+    # If it is below number by no WEIGHTS, it is just this number by all.
+    return loud_against(council, pairs, number) or even_weights(council)
 
 
 def is_weights_against(council, total, number, thing):
@@ -138,6 +152,19 @@ def is_weights_against(council, total, number, thing):
         return False
     top, bottom = sum_parts(council, thing, total)
     return top < number * bottom
+
+
+def is_wish(council, thing):
+    """Whether thing is a WISH of the COUNCIL."""
+    if not are_tuples(thing, 3) or not all([are_numbers(triple) for triple in thing]):
+        return False
+    firm = firm_in(council)
+    return all([0 <= member < len(council) and end in firm for member, end, _ in thing])
+
+
+def wish_weights_against(council, wish, number):
+    """WEIGHTS by which the WISH is below number; None if there are none."""
+    return loud_against(frozen(council), wishes_by_all(council, wish), number)
 
 
 def least_wish(council, wish):

@@ -1,7 +1,7 @@
 """What is sure where the numbers of the firm ones are not known, but an order, or bounds, of them (section 11)."""
 
-from whomheeds.basics import are_numbers, are_tuples, ascend, ends_reached, firm_in, frozen, refuse
-from whomheeds.follows import ends_by, is_plain_following, rows_and_ends
+from whomheeds.basics import are_numbers, are_tuples, ascend, ends_reached, firm_in, frozen, refuse, subsets
+from whomheeds.follows import all_ends, ends_by, is_plain_following, rows_and_ends
 
 
 def refuse_in_order(council, order, members=()):
@@ -46,10 +46,8 @@ def upward_sets(council, order):
 
 def sets_upward(council, order):
     """As upward_sets, nothing refused."""
-    found = [()]
-    for firm in firm_in(council):
-        found = found + [some + (firm,) for some in found]
-    return sorted([some for some in found if all([one not in some or other in some for one, other in order])])
+    return sorted([some for some in subsets(firm_in(council))
+                   if all([one not in some or other in some for one, other in order])])
 
 
 def parts_by_end(council, total, ends):
@@ -62,7 +60,7 @@ def parts_by_end(council, total, ends):
 
 def all_parts(council, total):
     """The rows of these numbers that come of all FOLLOWINGS, each once."""
-    return sorted(set([parts_by_end(council, total, ends) for _, ends in rows_and_ends(council)]))
+    return sorted(set([parts_by_end(council, total, ends) for ends in all_ends(council)]))
 
 
 def is_never_below(council, order, rows):
@@ -173,7 +171,7 @@ def at_most(council, order, one, other):
 
 def pairs_of_ends(council, one, other):
     """The set of the pairs of the firm ones at which both end in some FOLLOWING."""
-    return tuple(sorted(set([(ends[one], ends[other]) for _, ends in rows_and_ends(council)])))
+    return tuple(sorted(set([(ends[one], ends[other]) for ends in all_ends(council)])))
 
 
 def needed_pairs(council, one, other):
