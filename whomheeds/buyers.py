@@ -169,11 +169,9 @@ def bar(council):
     council = frozen(council)
     refuse(council)
     _, left, led = paired(council)
-    came = {}
-    for asker in askers_in(council):
-        if asker not in led:
-            came.update(places_from(left, (asker, 0)))
+    spare = [asker for asker in askers_in(council) if asker not in led]
     # Whoever can be reached from those left over is asked by them, or had to give way to them (Koenig).
+    came = {place: True for asker in spare for place in places_from(left, (asker, 0))}
     return (tuple([firm for firm in firm_in(council) if (firm, 0) in came]),
             tuple([asker for asker in led if (asker, 1) not in came]))
 

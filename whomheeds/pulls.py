@@ -248,7 +248,8 @@ def lean_council(council):
     council = frozen(council)
     refuse(council)
     table = all_ends(council)
+    lean = council
     for arc in arcs(council):
-        if is_needless(council, arc, table):
-            council = less_arc(council, arc)
-    return council
+        if is_needless(lean, arc, table):
+            lean = less_arc(lean, arc)
+    return lean
