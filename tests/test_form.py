@@ -173,6 +173,14 @@ class Form(unittest.TestCase):
             self.assertIn(node.type.id, own)
             self.assertIsNone(node.name)
 
+    def test_what_cases_capture(self):
+        """A captured name is nothing else in its function: no parameter, no variable of a loop, not assigned."""
+        for name, function in nodes(ast.FunctionDef):
+            captured = {node.name for node in ast.walk(function) if isinstance(node, ast.MatchAs)} - {None}
+            others = {node.arg for node in ast.walk(function) if isinstance(node, ast.arg)}
+            others |= {node.id for node in ast.walk(function) if isinstance(node, ast.Name) and isinstance(node.ctx, ast.Store)}
+            self.assertEqual(captured & others, set(), (name, function.name))
+
     def test_classes(self):
         found = [(name, node.name) for name, node in nodes(ast.ClassDef) if name != "errors.py"]
         self.assertEqual(found, [("board.py", "Board")])

@@ -213,6 +213,13 @@ class Outside(unittest.TestCase):
                         tried += lets
         self.assertGreater(tried, 300)
 
+    def test_an_outside_with_which_one_is_not_sound_parts_nothing(self):
+        house, bare = (((1, 2), 0, 7), (1,), (0,)), (((1,), 0, 7), (1,), (0,))
+        back = (((1,), 0), (1,), (0,))
+        for wish in ((), ((("seen", 0), ("own", 0), -1),), ((("seen", 0), ("own", 0), 1),)):
+            self.assertIs(houses.is_parting_outside(house, bare, (back, wish)), False)
+            self.assertIs(houses.is_parting_outside(bare, house, (back, wish)), False)
+
     def test_unfit_of_another_border(self):
         pairs = [((5,), (), (0,)), ((5,), (0,), ()), ((5, 6), (), (0,)), ((5, 6), (0,), (1,)), ((5, 6, 7), (0,), (1,))]
         for one, other in product(pairs, repeat=2):

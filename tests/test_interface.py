@@ -7,13 +7,8 @@ import pathlib
 import unittest
 
 from tests import calls
+from tests.refusing import lists_throughout
 from whomheeds import between, councils, follows, lots, orders, sums, unknown
-
-
-def lists_throughout(value):
-    if isinstance(value, (list, tuple)):
-        return [lists_throughout(part) for part in value]
-    return value
 
 
 def lists_outside(value):

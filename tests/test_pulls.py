@@ -107,6 +107,20 @@ class Papers(unittest.TestCase):
         self.assertGreater(min(seen.values()), 100)
 
 
+    def test_edges(self):
+        """More by the least that can be; and numbers far on both sides of 0."""
+        council, even = (0, 1, (0, 1), (0,)), ((), (), (1, 1), (1,))
+        for member, answers in ((1, (False, True, True)), (0, (True, False, True)), (3, (True, False, True))):
+            made = tuple(pulls.is_pull_paper(council, 2, member, word, even) for word in ("up", "down", "none"))
+            self.assertEqual(made, answers)
+        self.assertIs(pulls.is_pull_paper((0, 2, (0, 1), 1), 2, 3, "none", ((), (), (1, 1), ())), False)
+        far = (-10 ** 30, 10 ** 30, (0, 1), (0, 1))
+        made = pulls.pull_paper(far, 2, 3, "none")
+        self.assertTrue(self.is_paper(far, 2, 3, "none", made))
+        made = pulls.weights_apart(far[:3] + ((2, 0), (1, 2)), 4, 4)
+        self.assertIs(pulls.is_weights_apart(far[:3] + ((2, 0), (1, 2)), 4, 4, made), True)
+
+
 class Matter(unittest.TestCase):
 
     def test_whose_matter(self):
@@ -316,7 +330,8 @@ class Telling(unittest.TestCase):
                 self.assertGreaterEqual(value, 0)
 
     def test_not_alike(self):
-        for one, other in (((5, 6), (5,)), ((5, (0,)), (5, 6)), ((5, (0,)), ((1,), 5)), ((5, 6, (0,)), (5, (0,), (0,)))):
+        for one, other in (((5, 6), (5,)), ((5, (0,)), (5, 6)), ((5, (0,)), ((1,), 5)), ((5, 6, (0,)), (5, (0,), (0,))),
+                           ((5, (0,)), (5, (0,), (0,))), ((5, (0,), (0, 1)), (5, (0,)))):
             for function, more in ((pulls.tells_no_more, ()), (pulls.parting_wish, ()), (pulls.is_parting_wish, (None,))):
                 with self.assertRaises(Unfit):
                     function(one, other, *more)

@@ -52,6 +52,8 @@ FIRST_COME = (
     (houses.seen_above, (calls_more.TWO, -1, 5), NoMember, -1), (houses.seen_above, (calls_more.TWO, 4, 5), NoMember, 5),
     (houses.seen_above, (calls_more.TWO, 4, 4), Unfit, None),
     (houses.wish_there, (calls_more.HOUSE, calls_more.TWO, ()), Unfit, None),
+    (houses.wish_there, (calls_more.HOUSE, calls_more.OUTSIDE, ((("out", 3), ("out", -1), 1),)), NoMember, 3),
+    (houses.wish_there, (calls_more.HOUSE, calls_more.OUTSIDE, ((("seen", 0), ("out", -1), 1),)), NoMember, -1),
     (houses.put_together, (calls_more.HOUSE, calls_more.TWO), Unfit, None),
     (houses.places_there, (calls_more.TWO, calls_more.HOUSE), Unfit, None),
     (houses.is_parting_outside, (calls_more.TWO, calls_more.BARE, None), Unfit, None),

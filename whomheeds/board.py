@@ -3,7 +3,7 @@
 from whomheeds.basics import arcs, frozen, lost_ones, refuse_lost
 from whomheeds.councils import less_arc, made_asker, made_firm, with_arc, with_firm, without_arc
 from whomheeds.errors import NothingDone, NoWord, Unfit
-from whomheeds.sums import against, greatest_value, holds, least_value
+from whomheeds.sums import against, holds, spans
 
 
 def left_off(council, asker, goal):
@@ -15,7 +15,7 @@ def left_off(council, asker, goal):
 
 def words_held(council, kept):
     """The set of the words of those of these hopes that hold in the COUNCIL."""
-    return tuple([word for word, total in kept if holds(council, total, 0)])
+    return tuple([word for (word, _), (low, _) in zip(kept, spans_of(council, kept)) if low >= 0])
 
 
 def words_turned(kept, one, other):
@@ -23,9 +23,9 @@ def words_turned(kept, one, other):
     return tuple([word for word, _ in kept if (word in one) != (word in other)])
 
 
-def span_of(council, total):
-    """The pair of the least and the greatest value of the SUM by the ENDS of all FOLLOWINGS."""
-    return (least_value(council, total), greatest_value(council, total))
+def spans_of(council, kept):
+    """For each of these hopes the pair of its least and its greatest value by the ENDS of all FOLLOWINGS."""
+    return spans(council, [total for _, total in kept])
 
 
 class Board:
@@ -128,7 +128,7 @@ class Board:
 
     def span(self, word):
         """The pair of its least and its greatest value by the ENDS of all FOLLOWINGS."""
-        return span_of(self.council, self.total_of(word))
+        return spans(self.council, [self.total_of(word)])[0]
 
     def spoilt_by(self, asker, goal):
         """The set of the words of the hopes that hold, and would not behind ask(asker, goal)."""
@@ -157,11 +157,11 @@ class Board:
 
     def idle_arcs(self):
         """The ascending tuple of the arcs without each of which all hopes have the same span."""
-        now = [span_of(self.council, total) for _, total in self.kept]
+        now = spans_of(self.council, self.kept)
         found = []
         for arc in arcs(self.council):
             narrow = less_arc(self.council, arc)
             # An asker that asks nobody any more is lost, too.
-            if lost_ones(narrow) == () and [span_of(narrow, total) for _, total in self.kept] == now:
+            if lost_ones(narrow) == () and spans_of(narrow, self.kept) == now:
                 found.append(arc)
         return tuple(found)

@@ -81,14 +81,12 @@ def roads_apart(council, some, number):
     if cannot_be_sure(council, some, number):
         return None
     low = low_ones(council, number)
-    # Askers alone are taken but once: the flow ends at those that ask low ones.
-    asked = [tuple([goal for goal in asks(council, member) if not is_firm(council, goal)])
-             for member in range(len(council))]
+    asked = [asks(council, member) for member in range(len(council))]
+    # The flow ends at the askers that ask low ones: firm ones may be taken by several ROADS.
     last = {asker: [goal for goal in council[asker] if goal in low] for asker in askers_in(council)}
-    left, led = side_by_side(asked, [asker for asker in last if last[asker]],
-                             [member for member in some if not is_firm(council, member)])
+    left, led = side_by_side(asked, [asker for asker in last if last[asker]], some)
     roads = [road_taken(asked, left, start) for start in led]
-    return tuple(sorted([road + (last[road[-1]][0],) for road in roads]))
+    return tuple([road + (last[road[-1]][0],) for road in roads])
 
 
 def is_roads_apart(council, some, number, thing):
@@ -169,9 +167,9 @@ def bar(council):
     council = frozen(council)
     refuse(council)
     _, left, led = paired(council)
-    spare = [asker for asker in askers_in(council) if asker not in led]
-    # Whoever can be reached from those left over is asked by them, or had to give way to them (Koenig).
-    came = {place: True for asker in spare for place in places_from(left, (asker, 0))}
+    # Those left over come to all that they ask, and to all that would have to give way to them (Koenig); from the
+    # first places of the others nothing leads on.
+    came = {place: True for asker in askers_in(council) for place in places_from(left, (asker, 0))}
     return (tuple([firm for firm in firm_in(council) if (firm, 0) in came]),
             tuple([asker for asker in led if (asker, 1) not in came]))
 
@@ -183,15 +181,10 @@ def is_bar(council, thing):
     if not isinstance(thing, tuple) or len(thing) != 2 or not all([is_set_of_numbers(part) for part in thing]):
         return False
     firm, chosen = thing
-    if not are_among(firm, firm_in(council)) or not are_among(chosen, askers_in(council)):
-        return False
+    # Whoever is of another kind has no arc here: with somebody like that so few would not be enough.
     if len(firm) + len(chosen) != most_ends(council):
         return False
     return all([asker in chosen or goal in firm for asker, goal in arcs_to_firm(council)])
-
-
-def are_among(some, numbers):
-    return all([number in numbers for number in some])
 
 
 def arcs_to_firm(council):

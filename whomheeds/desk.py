@@ -28,10 +28,8 @@ def request_in(line):
     if words[0] not in SHAPES:
         return None
     shape = SHAPES[words[0]]
-    parts = words[1:]
-    if shape and shape[-1] in ("members", "numbers"):
-        # All behind the other words are one row.
-        parts = words[1:len(shape)] + [" ".join(words[len(shape):])]
+    # The last part is all that is left of the line: one word, or a row of them.
+    parts = words[1:len(shape)] + [" ".join(words[len(shape):])] if shape else words[1:]
     if len(parts) != len(shape):
         return None
     told = tuple([told_by(part, kind) for part, kind in zip(parts, shape)])
@@ -90,7 +88,7 @@ def answer(board, request):
         case ("members",):
             return " / ".join(member_lines(board.members()))
         case ("hopes",):
-            return row_text([word for word, _ in board.hopes()])
+            return row_text([told for told, _ in board.hopes()])
         case ("held",):
             return row_text(board.held())
         case ("changed",):
@@ -110,7 +108,7 @@ def answer(board, request):
         case ("against", word):
             return "no" if board.breaker(word) is None else "below"
         case ("idle",):
-            return row_text([str(asker) + ">" + str(goal) for asker, goal in board.idle_arcs()])
+            return row_text([str(one) + ">" + str(other) for one, other in board.idle_arcs()])
         case ("voice",):
             return voice_text(voice_of(board.members(), even_weights(board.members())))
         case ("deeds",):

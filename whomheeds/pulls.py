@@ -239,8 +239,8 @@ def needless_arcs(council):
 def is_needless(council, arc, table):
     """Whether all ENDS of the COUNCIL, those in the table, are also ENDS without the arc."""
     narrow = less_arc(council, arc)
-    # An asker that asks nobody any more is lost, too.
-    return lost_ones(narrow) == () and all([are_ends(narrow, ends) for ends in table])
+    # If somebody is lost, or asks nobody any more, nothing is ENDS.
+    return all([are_ends(narrow, ends) for ends in table])
 
 
 def lean_council(council):

@@ -80,6 +80,16 @@ def held_rows(council):
     return sorted(set([tuple([council[end] for end in ends]) for ends in all_ends(council)]))
 
 
+def spans(council, totals):
+    """For each of these SUMS the pair of its least and its greatest value, the FOLLOWINGS gone through but once."""
+    rows = held_rows(council)
+    found = []
+    for total in totals:
+        values = [sum([number * held for number, held in zip(total, row)]) for row in rows]
+        found.append((min(values), max(values)))
+    return found
+
+
 def surely_below(council):
     """The ascending list of the pairs of MEMBERS the first one of which holds less FOR ALL WEIGHTS."""
     council = frozen(council)

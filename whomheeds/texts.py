@@ -190,6 +190,6 @@ def following_text(following):
 def read_following(council, text):
     """The FOLLOWING of the COUNCIL with this text."""
     found = numbers_in(text)
-    if found is None or not is_plain_following(frozen(council), found):
+    if not is_plain_following(frozen(council), found):
         raise BadText()
     return found
