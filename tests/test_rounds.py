@@ -156,6 +156,30 @@ class Rounds(unittest.TestCase):
                               talk_round(council, other, voice) == later)
 
 
+    def test_at_the_bounds(self):
+        """Ten askers, great numbers, eight rounds by great WEIGHTS."""
+        for seed, council in enumerate((BIG, WIDE, LONG)):
+            begun = begun_for(council, seed)
+            talk = tuple(samples.rows_for(council, seed + k, 10 ** 30 - 900, 900) for k in range(8))
+            held = after(council, begun, talk)
+            self.assertEqual(rounds.after_talk(council, begun, talk), tuple(map(pair, held)))
+            ahead = after(council, begun, talk[:7])
+            told = tuple(map(pair, ahead)), tuple(map(pair, held))
+            self.assertIs(rounds.is_round_weights(council, *told, talk[7]), True)
+            made = rounds.round_weights(council, *told)
+            self.assertEqual(talk_round(council, made, ahead), held)
+            for asker in reckoning.askers(council):
+                self.assertEqual(rounds.hangs_on(council, asker, 10 ** 30), self.hanging(council, asker, 2520 * 2))
+                self.assertIsNone(rounds.rounds_till_free(council, asker))
+
+    def hanging(self, council, asker, many):
+        """As many rounds as come round like 10 ** 30 do: all rings here hold turns of one or two."""
+        gone = {asker}
+        for _ in range(many):
+            gone = {goal for k in gone for goal in council[k] if not reckoning.is_firm(council, goal)}
+        return tuple(sorted(gone))
+
+
 class Unfolded(unittest.TestCase):
 
     def test_unfolded(self):
